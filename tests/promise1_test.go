@@ -1,0 +1,184 @@
+package tests
+
+import (
+	"math"
+	"reflect"
+	"slices"
+	"strings"
+	"testing"
+
+	"loop.example/g01202/impl"
+)
+
+// A call is a function with all its arguments; it returns all results.
+type call struct {
+	name string
+	run  func() []any
+}
+
+func oddNumbers() []int64 {
+	return []int64{
+		math.MinInt64, math.MinInt64 + 1, -impl.MaxValue - 1, -impl.MaxValue, -1, 0, 1, 2, 7, impl.MaxMember, impl.MaxMember + 1,
+		impl.CheckSize - 1, impl.CheckSize, impl.MaxValue, impl.MaxValue + 1, math.MaxInt64 - 1, math.MaxInt64,
+	}
+}
+
+func oddStrings() []string {
+	return []string{
+		"", "a", "room", "Hi, room 7!", "@7 and @70", "none", "-0", "-7", "1,2,3", "617a", "61z", "\x00", "\xff\xfe", "a\n", "é@7",
+		strings.Repeat("a", 16), strings.Repeat("\x00", 32), strings.Repeat("x", impl.MaxText), strings.Repeat("@", impl.MaxText+1),
+		strings.Repeat("1,", impl.MaxItems), strings.Repeat("ab", impl.MaxBytes), strings.Repeat("\x80", impl.MaxBytes+1), strings.Repeat("9", 100000),
+	}
+}
+
+func oddLists() [][]int64 {
+	return [][]int64{
+		nil, {}, {0}, {1}, {1, 3}, {2, 3}, {3, 1}, {2, 2}, {math.MinInt64}, {math.MaxInt64, math.MinInt64}, {impl.MaxMember, impl.MaxMember + 1},
+		upTo(impl.MaxItems), upTo(impl.MaxItems + 1), upTo(impl.MaxMember), upTo(20000),
+	}
+}
+
+// callsOfNumbers, callsOfStrings and callsOfLists call every function of chapter 1 with all kinds of arguments.
+func callsOfNumbers() []call {
+	var calls []call
+	for _, n := range oddNumbers() {
+		calls = append(calls, call{"Decimal", func() []any { return []any{impl.Decimal(n)} }})
+		for _, m := range oddNumbers() {
+			calls = append(calls, call{"TokenOf", func() []any { s, ok := impl.TokenOf(n, m); return []any{s, ok} }})
+		}
+		for _, s := range oddStrings() {
+			calls = append(calls, call{"CheckOf", func() []any { c, ok := impl.CheckOf(n, s); return []any{c, ok} }})
+		}
+	}
+	return calls
+}
+
+func callsOfStrings() []call {
+	var calls []call
+	for _, s := range oddStrings() {
+		calls = append(calls,
+			call{"Is", func() []any {
+				return []any{impl.IsName(s), impl.IsText(s), impl.IsToken(s), impl.IsDigest(s)}
+			}},
+			call{"ReadDecimal", func() []any { n, ok := impl.ReadDecimal(s); return []any{n, ok} }},
+			call{"ReadList", func() []any { list, ok := impl.ReadList(s); return []any{list, ok} }},
+			call{"HexText", func() []any { text, ok := impl.HexText(s); return []any{text, ok} }},
+			call{"ReadHex", func() []any { b, ok := impl.ReadHex(s); return []any{b, ok} }},
+			call{"DigestOf", func() []any { d, ok := impl.DigestOf(s); return []any{d, ok} }},
+			call{"WordsOf", func() []any { words, ok := impl.WordsOf(s); return []any{words, ok} }},
+			call{"MentionsOf", func() []any { list, ok := impl.MentionsOf(s); return []any{list, ok} }})
+		for _, parts := range [][]string{nil, {}, {"a", "b"}, oddStrings(), make([]string, impl.MaxItems+1)} {
+			calls = append(calls, call{"ChainOf", func() []any { chain, ok := impl.ChainOf(s, parts); return []any{chain, ok} }})
+		}
+	}
+	return calls
+}
+
+func callsOfLists() []call {
+	var calls []call
+	for _, a := range oddLists() {
+		calls = append(calls,
+			call{"ListText", func() []any { s, ok := impl.ListText(a); return []any{s, ok} }},
+			call{"IsMembers", func() []any { return []any{impl.IsMembers(a)} }})
+		for _, b := range oddLists() {
+			calls = append(calls,
+				call{"JoinSets", func() []any { s, ok := impl.JoinSets(a, b); return []any{s, ok} }},
+				call{"LessSet", func() []any { s, ok := impl.LessSet(a, b); return []any{s, ok} }})
+		}
+	}
+	return calls
+}
+
+// Promise 1: every function returns for all arguments, with equal results for equal ones.
+// What fails has a zero value as its other result.
+func TestCallsReturnAndAreEqual(t *testing.T) {
+	for _, c := range slices.Concat(callsOfNumbers(), callsOfStrings(), callsOfLists()) {
+		first, second := c.run(), c.run()
+		if !reflect.DeepEqual(first, second) {
+			t.Errorf("%s: %v, then %v", c.name, first, second)
+		}
+		if len(first) == 2 && first[1] == false && !isZero(first[0]) {
+			t.Errorf("%s: fails, but has the result %v", c.name, first[0])
+		}
+	}
+}
+
+func isZero(v any) bool {
+	r := reflect.ValueOf(v)
+	return r.IsZero() || r.Kind() == reflect.Slice && r.Len() == 0
+}
+
+// spare returns list with unused capacity behind it, and a report whether any of this memory has changed.
+func spare[T comparable](list []T, behind ...T) ([]T, func() bool) {
+	whole := slices.Concat(list, behind)
+	kept := slices.Clone(whole)
+	return whole[:len(list)], func() bool { return !slices.Equal(whole, kept) }
+}
+
+// Promise 1: no function modifies an argument, nor what lies in its unused capacity.
+func TestArgumentsStayAsTheyAre(t *testing.T) {
+	for _, one := range oddLists() {
+		for _, other := range oddLists() {
+			a, aChanged := spare(one, -5, 9, -5)
+			b, bChanged := spare(other, 8, -6, 8)
+			impl.ListText(a)
+			impl.IsMembers(a)
+			impl.JoinSets(a, b)
+			impl.LessSet(a, b)
+			if aChanged() || bChanged() {
+				t.Fatalf("%v or %v is changed", one, other)
+			}
+		}
+	}
+	parts, changed := spare([]string{"b", "a", "", "b"}, "spare", "spare")
+	impl.ChainOf(strings.Repeat("d", 32), parts)
+	isBool(t, "the parts are changed", changed(), false)
+}
+
+// Promise 1: results are new memory: what is written into one is seen in no argument and in no other result.
+func TestResultsAreNewMemory(t *testing.T) {
+	a, aChanged := spare([]int64{1, 3, 5}, 7, 9)
+	b, bChanged := spare([]int64{2, 3}, 7, 9)
+	for name, run := range map[string]func() []int64{
+		"JoinSets":         func() []int64 { list, _ := impl.JoinSets(a, b); return list },
+		"JoinSets and nil": func() []int64 { list, _ := impl.JoinSets(a, nil); return list },
+		"nil and JoinSets": func() []int64 { list, _ := impl.JoinSets(nil, a); return list },
+		"LessSet":          func() []int64 { list, _ := impl.LessSet(a, b); return list },
+		"LessSet and nil":  func() []int64 { list, _ := impl.LessSet(a, nil); return list },
+		"ReadList":         func() []int64 { list, _ := impl.ReadList("4,5,6"); return list },
+		"MentionsOf":       func() []int64 { list, _ := impl.MentionsOf("@4 @5 @6"); return list },
+	} {
+		first := run()
+		kept := slices.Clone(first)
+		second := run()
+		overwrite(second)
+		isBool(t, name+": the other result is kept", slices.Equal(first, kept), true)
+		isBool(t, name+": an argument is changed", aChanged() || bChanged(), false)
+		isBool(t, name+": the next result is the same", slices.Equal(run(), kept), true)
+	}
+}
+
+// overwrite writes into all memory of a list.
+func overwrite(list []int64) {
+	list = list[:cap(list)]
+	for i := range list {
+		list[i] = -77
+	}
+}
+
+// Promise 1: nil and an empty list are the same argument.
+func TestNilIsAnEmptyList(t *testing.T) {
+	for _, empty := range [][]int64{nil, {}} {
+		text, ok := impl.ListText(empty)
+		isValue(t, "ListText", text, ok, "none")
+		isBool(t, "IsMembers", impl.IsMembers(empty), true)
+		list, ok := impl.JoinSets(empty, []int64{4})
+		isList(t, "JoinSets", list, ok, 4)
+		list, ok = impl.LessSet([]int64{4}, empty)
+		isList(t, "LessSet", list, ok, 4)
+	}
+	for _, empty := range [][]string{nil, {}} {
+		chain, ok := impl.ChainOf(strings.Repeat("d", 32), empty)
+		isList(t, "ChainOf", chain, ok)
+	}
+}
