@@ -267,6 +267,8 @@ func isValue(n int64) bool { return n >= -MaxValue && n <= MaxValue }
 
 func isMember(n int64) bool { return n >= 1 && n <= MaxMember }
 
+func isTick(n int64) bool { return n >= 0 && n <= MaxTick }
+
 func isSmallLetter(r rune) bool { return 'a' <= r && r <= 'z' }
 
 func isDigit(r rune) bool { return '0' <= r && r <= '9' }

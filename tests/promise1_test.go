@@ -2,6 +2,7 @@ package tests
 
 import (
 	"math"
+	"math/rand"
 	"reflect"
 	"slices"
 	"strings"
@@ -19,7 +20,7 @@ type call struct {
 func oddNumbers() []int64 {
 	return []int64{
 		math.MinInt64, math.MinInt64 + 1, -impl.MaxValue - 1, -impl.MaxValue, -1, 0, 1, 2, 7, impl.MaxMember, impl.MaxMember + 1,
-		impl.CheckSize - 1, impl.CheckSize, impl.MaxValue, impl.MaxValue + 1, math.MaxInt64 - 1, math.MaxInt64,
+		impl.CheckSize - 1, impl.CheckSize, impl.MaxTick, impl.MaxTick + 1, impl.MaxValue, impl.MaxValue + 1, math.MaxInt64 - 1, math.MaxInt64,
 	}
 }
 
@@ -89,10 +90,63 @@ func callsOfLists() []call {
 	return calls
 }
 
+func oddRooms() []impl.Room {
+	huge := impl.Room{Members: make([]impl.Member, 20000), Invites: make([]impl.Invite, 20000), Bans: make([]impl.Ban, 20000)}
+	for i := range huge.Members {
+		id := int64(i) + 1
+		huge.Members[i], huge.Invites[i], huge.Bans[i] = member(id, impl.RoleOwner, 0, 0), invite(id, 1, 0), ban(id, 0)
+	}
+	odd := impl.Room{Members: []impl.Member{member(math.MinInt64, math.MaxInt64, -1, -1), member(7, -1, math.MaxInt64, math.MinInt64)}}
+	alone, _ := impl.NewRoom(7, 1, true)
+	return []impl.Room{
+		{}, {Open: true}, {Invites: []impl.Invite{{}}, Bans: []impl.Ban{{}}}, odd, huge, alone, houseOf(), fullRoom(),
+		with(houseOf(), func(r *impl.Room) { r.Open = true }), with(houseOf(), func(r *impl.Room) { r.Members = r.Members[2:] }),
+		with(houseOf(), func(r *impl.Room) { r.Members[7].Quiet = math.MaxInt64 }), with(houseOf(), func(r *impl.Room) { r.Bans[0].Id = 1 }),
+	}
+}
+
+// roomNumbers are those with which the functions with rooms succeed, and odd ones.
+func roomNumbers() []int64 {
+	return slices.Concat([]int64{0, 1, 2, 3, 7, 11, 21, 22, 31, 32, 40, 41, 50, 51, 70, 100}, oddNumbers())
+}
+
+// callsOfRooms calls every function of chapter 2; of the numbers, there are too many to take them all together.
+func callsOfRooms() []call {
+	rounds := rand.New(rand.NewSource(5))
+	pick := func() int64 { return roomNumbers()[rounds.Intn(len(roomNumbers()))] }
+	var calls []call
+	for _, n := range oddNumbers() {
+		for _, m := range oddNumbers() {
+			calls = append(calls,
+				call{"RoleMay", func() []any { return []any{impl.RoleMay(n, m)} }},
+				call{"NewRoom", func() []any { r, ok := impl.NewRoom(n, m, n%2 == 0); return []any{r, ok} }})
+		}
+	}
+	for _, r := range oddRooms() {
+		calls = append(calls,
+			call{"ValidRoom", func() []any { return []any{impl.ValidRoom(r)} }},
+			call{"RanksOf", func() []any { list, ok := impl.RanksOf(r); return []any{list, ok} }},
+			call{"CountRoles", func() []any { list, ok := impl.CountRoles(r); return []any{list, ok} }})
+		for _, other := range oddRooms() {
+			calls = append(calls, call{"SameRoom", func() []any { return []any{impl.SameRoom(r, other)} }})
+		}
+		for range 200 {
+			by, id, n, at := pick(), pick(), pick(), pick()
+			calls = append(calls,
+				call{"RoleOf", func() []any { role, ok := impl.RoleOf(r, id); return []any{role, ok} }},
+				call{"IsAllowed", func() []any { return []any{impl.IsAllowed(r, id, n, at)} }})
+			for _, s := range steps() {
+				calls = append(calls, call{s.name, func() []any { after, ok := s.run(r, by, id, n, at); return []any{after, ok} }})
+			}
+		}
+	}
+	return calls
+}
+
 // Promise 1: every function returns for all arguments, with equal results for equal ones.
 // What fails has a zero value as its other result.
 func TestCallsReturnAndAreEqual(t *testing.T) {
-	for _, c := range slices.Concat(callsOfNumbers(), callsOfStrings(), callsOfLists()) {
+	for _, c := range slices.Concat(callsOfNumbers(), callsOfStrings(), callsOfLists(), callsOfRooms()) {
 		first, second := c.run(), c.run()
 		if !reflect.DeepEqual(first, second) {
 			t.Errorf("%s: %v, then %v", c.name, first, second)
@@ -159,12 +213,7 @@ func TestResultsAreNewMemory(t *testing.T) {
 }
 
 // overwrite writes into all memory of a list.
-func overwrite(list []int64) {
-	list = list[:cap(list)]
-	for i := range list {
-		list[i] = -77
-	}
-}
+func overwrite(list []int64) { spoil(list, -77) }
 
 // Promise 1: nil and an empty list are the same argument.
 func TestNilIsAnEmptyList(t *testing.T) {
@@ -180,5 +229,105 @@ func TestNilIsAnEmptyList(t *testing.T) {
 	for _, empty := range [][]string{nil, {}} {
 		chain, ok := impl.ChainOf(strings.Repeat("d", 32), empty)
 		isList(t, "ChainOf", chain, ok)
+	}
+}
+
+// spareRoom is spare for all lists of a room.
+func spareRoom(r impl.Room) (impl.Room, func() bool) {
+	members, membersChanged := spare(r.Members, member(-5, 9, 9, 9), member(2, 3, 0, 0))
+	invites, invitesChanged := spare(r.Invites, invite(-5, 9, 9), invite(2, 1, 1))
+	bans, bansChanged := spare(r.Bans, ban(-5, 9), ban(2, 1))
+	return impl.Room{Open: r.Open, Members: members, Invites: invites, Bans: bans}, func() bool {
+		return membersChanged() || invitesChanged() || bansChanged()
+	}
+}
+
+// goodSteps are calls of all functions that return a room that has been changed; they succeed for houseOf.
+func goodSteps() map[string]func(r impl.Room) (impl.Room, bool) {
+	good := map[string]func(r impl.Room) (impl.Room, bool){
+		"JoinRoom":  func(r impl.Room) (impl.Room, bool) { return impl.JoinRoom(r, 40, 10) },
+		"LeaveRoom": func(r impl.Room) (impl.Room, bool) { return impl.LeaveRoom(r, 1) },
+		"SweepRoom": func(r impl.Room) (impl.Room, bool) { return impl.SweepRoom(r, 55) },
+		"nothing":   func(r impl.Room) (impl.Room, bool) { return impl.SweepRoom(r, 0) },
+	}
+	for _, o := range orders() {
+		good[o.name] = func(r impl.Room) (impl.Room, bool) { return o.run(r, o.by, 7) }
+	}
+	return good
+}
+
+// Promise 1 for rooms: no function of chapter 2 modifies an argument.
+func TestRoomsStayAsTheyAre(t *testing.T) {
+	rounds := rand.New(rand.NewSource(6))
+	for _, odd := range oddRooms() {
+		if len(odd.Members) > 100 {
+			continue
+		}
+		r, changed := spareRoom(odd)
+		other, otherChanged := spareRoom(odd)
+		impl.ValidRoom(r)
+		impl.SameRoom(r, other)
+		impl.RanksOf(r)
+		impl.CountRoles(r)
+		for range 100 {
+			id, n := roomNumbers()[rounds.Intn(16)], roomNumbers()[rounds.Intn(16)]
+			impl.RoleOf(r, id)
+			impl.IsAllowed(r, id, n, 7)
+			for _, s := range steps() {
+				s.run(r, 1, id, n, 7)
+			}
+		}
+		for _, run := range goodSteps() {
+			run(r)
+		}
+		isBool(t, roomText(odd)+" is changed", changed() || otherChanged(), false)
+	}
+}
+
+// Promise 1 for rooms: each list of a result is new memory, in which no other one lies.
+func TestRoomsAreNewMemory(t *testing.T) {
+	r, changed := spareRoom(houseOf())
+	for name, run := range goodSteps() {
+		first, ok := run(r)
+		isBool(t, name, ok, true)
+		kept := copyOfRoom(first)
+		second, _ := run(r)
+		spoil(second.Members, member(-7, -7, -7, -7))
+		spoil(second.Invites, invite(-7, -7, -7))
+		spoil(second.Bans, ban(-7, -7))
+		isBool(t, name+": the room is changed", changed(), false)
+		isBool(t, name+": the other result is kept", impl.SameRoom(first, kept), true)
+		third, _ := run(r)
+		isBool(t, name+": the next result is the same", impl.SameRoom(third, kept), true)
+	}
+	for name, run := range map[string]func(r impl.Room) ([]int64, bool){"RanksOf": impl.RanksOf, "CountRoles": impl.CountRoles} {
+		first, _ := run(r)
+		kept := slices.Clone(first)
+		second, _ := run(r)
+		overwrite(second)
+		isBool(t, name+": the other result is kept", slices.Equal(first, kept), true)
+		isBool(t, name+": the room is changed", changed(), false)
+	}
+}
+
+// spoil writes one value into all memory of a list.
+func spoil[T any](list []T, with T) {
+	list = list[:cap(list)]
+	for i := range list {
+		list[i] = with
+	}
+}
+
+// Promise 1 for rooms: nil and an empty list are the same in a room.
+func TestNilIsAnEmptyListOfARoom(t *testing.T) {
+	none := impl.Room{Members: []impl.Member{member(1, 3, 0, 0), member(31, 0, 0, 0)}}
+	empty := with(none, func(r *impl.Room) { r.Invites, r.Bans = []impl.Invite{}, []impl.Ban{} })
+	isBool(t, "ValidRoom", impl.ValidRoom(none) && impl.ValidRoom(empty), true)
+	for _, o := range orders() {
+		by := int64(1)
+		one, ok := o.run(none, by, 7)
+		other, alsoOk := o.run(empty, by, 7)
+		isBool(t, o.name+" succeeds for both or none", ok == alsoOk, true)
+		isRoom(t, o.name, one, true, other)
 	}
 }
