@@ -1,6 +1,8 @@
 package tests
 
 import (
+	"fmt"
+	"maps"
 	"math"
 	"math/rand"
 	"reflect"
@@ -58,9 +60,10 @@ func callsOfStrings() []call {
 	var calls []call
 	for _, s := range oddStrings() {
 		calls = append(calls,
-			call{"Is", func() []any {
-				return []any{impl.IsName(s), impl.IsText(s), impl.IsToken(s), impl.IsDigest(s)}
-			}},
+			call{"IsName", func() []any { return []any{impl.IsName(s)} }},
+			call{"IsText", func() []any { return []any{impl.IsText(s)} }},
+			call{"IsToken", func() []any { return []any{impl.IsToken(s)} }},
+			call{"IsDigest", func() []any { return []any{impl.IsDigest(s)} }},
 			call{"ReadDecimal", func() []any { n, ok := impl.ReadDecimal(s); return []any{n, ok} }},
 			call{"ReadList", func() []any { list, ok := impl.ReadList(s); return []any{list, ok} }},
 			call{"HexText", func() []any { text, ok := impl.HexText(s); return []any{text, ok} }},
@@ -143,16 +146,97 @@ func callsOfRooms() []call {
 	return calls
 }
 
+func oddLogs() []impl.Log {
+	huge := impl.Log{Next: impl.MaxValue, Messages: make([]impl.Message, 20000)}
+	for i := range huge.Messages {
+		huge.Messages[i] = said(int64(i)+1, 7, 5, "x", int64(i))
+	}
+	loud := but(longLog(), func(l *impl.Log) {
+		for i := range l.Messages {
+			l.Messages[i].Text, l.Messages[i].Likes = strings.Repeat("@", impl.MaxText), upTo(6)
+		}
+	})
+	logs := []impl.Log{
+		talk(), longLog(), huge, loud, {Next: 1}, {Next: 13}, {Next: math.MinInt64}, {Next: math.MaxInt64, Messages: talk().Messages},
+		{Next: impl.MaxValue}, {Next: impl.MaxValue, Messages: talk().Messages}, {Next: impl.MaxValue - 1, Messages: talk().Messages},
+		{Next: 5, Messages: []impl.Message{{Number: 1, Sender: 1, Likes: upTo(20000)}}}, {Next: 5, Messages: []impl.Message{{Number: 1, Sender: 1, Text: strings.Repeat("x", 100000)}}},
+		{Next: 5, Messages: []impl.Message{{Number: math.MaxInt64, Sender: math.MinInt64, At: -1, Edits: math.MaxInt64, Reply: math.MinInt64, Likes: []int64{math.MinInt64}}}},
+		but(talk(), func(l *impl.Log) { at(l, 13).Edits = impl.MaxValue }),
+	}
+	bad := badLogs()
+	for _, name := range slices.Sorted(maps.Keys(bad)) {
+		logs = append(logs, bad[name])
+	}
+	return logs
+}
+
+// logNumbers are those with which the functions with logs succeed, and odd ones.
+func logNumbers() []int64 {
+	return slices.Concat([]int64{0, 2, 2, 3, 5, 6, 7, 7, 7, 8, 9, 9, 10, 12, 13, 20, 999, impl.MaxMember}, oddNumbers())
+}
+
+func asksOf(l impl.Log, number, since int64) []call {
+	return []call{
+		{"MessageOf", func() []any { m, ok := impl.MessageOf(l, number); return []any{m, ok} }},
+		{"AnswersTo", func() []any { list, ok := impl.AnswersTo(l, number); return []any{list, ok} }},
+		{"ThreadOf", func() []any { list, ok := impl.ThreadOf(l, number); return []any{list, ok} }},
+		{"RootOf", func() []any { root, ok := impl.RootOf(l, number); return []any{root, ok} }},
+		{"SeenBy", func() []any { list, ok := impl.SeenBy(l, number, since); return []any{list, ok} }},
+		{"MentionsIn", func() []any { list, ok := impl.MentionsIn(l, number); return []any{list, ok} }},
+	}
+}
+
+func changesOf(l impl.Log, number, member, tick int64, text string) []call {
+	return []call{
+		{"PostMessage", func() []any {
+			after, n, ok := impl.PostMessage(l, member, tick, text, number)
+			return []any{after, n, ok}
+		}},
+		{"EditMessage", func() []any { after, ok := impl.EditMessage(l, number, member, text); return []any{after, ok} }},
+		{"TakeBack", func() []any { after, ok := impl.TakeBack(l, number, member); return []any{after, ok} }},
+		{"LikeMessage", func() []any { after, ok := impl.LikeMessage(l, number, member); return []any{after, ok} }},
+		{"UnlikeMessage", func() []any { after, ok := impl.UnlikeMessage(l, number, member); return []any{after, ok} }},
+	}
+}
+
+// callsOfLogs calls every function of chapter 3, with a choice of the numbers and texts.
+func callsOfLogs() []call {
+	rounds := rand.New(rand.NewSource(7))
+	pick := func() int64 { return logNumbers()[rounds.Intn(len(logNumbers()))] }
+	var calls []call
+	for _, l := range oddLogs() {
+		calls = append(calls,
+			call{"ValidLog", func() []any { return []any{impl.ValidLog(l)} }},
+			call{"CountsOf", func() []any { counts, ok := impl.CountsOf(l); return []any{counts, ok} }},
+			call{"DigestOfLog", func() []any { digest, ok := impl.DigestOfLog(l); return []any{digest, ok} }})
+		for _, other := range oddLogs() {
+			calls = append(calls, call{"SameLog", func() []any { return []any{impl.SameLog(l, other)} }})
+		}
+		for _, m := range l.Messages[:min(len(l.Messages), 50)] {
+			calls = append(calls, call{"ValidMessage", func() []any { return []any{impl.ValidMessage(m)} }})
+		}
+		for range 200 {
+			text := oddStrings()[rounds.Intn(len(oddStrings()))]
+			calls = append(calls, asksOf(l, pick(), pick())...)
+			calls = append(calls, changesOf(l, pick(), pick(), pick(), text)...)
+		}
+	}
+	return calls
+}
+
 // Promise 1: every function returns for all arguments, with equal results for equal ones.
-// What fails has a zero value as its other result.
+// What fails has zero values as its other results.
 func TestCallsReturnAndAreEqual(t *testing.T) {
-	for _, c := range slices.Concat(callsOfNumbers(), callsOfStrings(), callsOfLists(), callsOfRooms()) {
+	for _, c := range slices.Concat(callsOfNumbers(), callsOfStrings(), callsOfLists(), callsOfRooms(), callsOfLogs()) {
 		first, second := c.run(), c.run()
 		if !reflect.DeepEqual(first, second) {
 			t.Errorf("%s: %v, then %v", c.name, first, second)
 		}
-		if len(first) == 2 && first[1] == false && !isZero(first[0]) {
-			t.Errorf("%s: fails, but has the result %v", c.name, first[0])
+		last := len(first) - 1
+		for _, other := range first[:last] {
+			if first[last] == false && !isZero(other) {
+				t.Errorf("%s: fails, but has the result %v", c.name, other)
+			}
 		}
 	}
 }
@@ -329,5 +413,130 @@ func TestNilIsAnEmptyListOfARoom(t *testing.T) {
 		other, alsoOk := o.run(empty, by, 7)
 		isBool(t, o.name+" succeeds for both or none", ok == alsoOk, true)
 		isRoom(t, o.name, one, true, other)
+	}
+}
+
+// spareLog is spare for all lists of a log.
+func spareLog(l impl.Log) (impl.Log, func() bool) {
+	whole := copyOfLog(impl.Log{Messages: append(slices.Clone(l.Messages), said(-5, 9, 9, "spare", 9), said(21, 7, 9, "spare", 0))})
+	kept := copyOfLog(whole)
+	var changes []func() bool
+	for i, m := range whole.Messages {
+		likes, changed := spare(m.Likes, -5, 9, 999, impl.MaxMember)
+		whole.Messages[i].Likes = likes
+		changes = append(changes, changed)
+	}
+	return impl.Log{Next: l.Next, Messages: whole.Messages[:len(l.Messages)]}, func() bool {
+		return logText(whole) != logText(kept) || slices.ContainsFunc(changes, func(changed func() bool) bool { return changed() })
+	}
+}
+
+// goodActs are calls of all functions that return a log that has been changed; they succeed for talk.
+func goodActs(l impl.Log) []call {
+	return []call{
+		changesOf(l, 3, 7, 9, "x")[0], changesOf(l, 0, 7, 9, "x")[0], changesOf(l, 2, 7, 0, "x")[1], changesOf(l, 13, impl.MaxMember, 0, "x")[1],
+		changesOf(l, 2, 7, 0, "")[2], changesOf(l, 3, 8, 0, "")[2], changesOf(l, 13, 500, 0, "")[3], changesOf(l, 9, 1, 0, "")[3],
+		changesOf(l, 13, 7, 0, "")[4], changesOf(l, 13, 999, 0, "")[4], changesOf(l, 6, 1, 0, "")[4],
+	}
+}
+
+// Promise 1 for logs: no function of chapter 3 modifies an argument.
+func TestLogsStayAsTheyAre(t *testing.T) {
+	rounds := rand.New(rand.NewSource(8))
+	pick := func() int64 { return logNumbers()[rounds.Intn(len(logNumbers()))] }
+	for _, odd := range oddLogs() {
+		if len(odd.Messages) > 100 {
+			continue
+		}
+		l, changed := spareLog(odd)
+		other, otherChanged := spareLog(odd)
+		impl.ValidLog(l)
+		impl.SameLog(l, other)
+		impl.CountsOf(l)
+		impl.DigestOfLog(l)
+		for _, m := range l.Messages {
+			impl.ValidMessage(m)
+		}
+		calls := goodActs(l)
+		for range 100 {
+			calls = append(calls, asksOf(l, pick(), pick())...)
+			calls = append(calls, changesOf(l, pick(), pick(), 9, "x")...)
+		}
+		for _, c := range calls {
+			c.run()
+		}
+		isBool(t, logText(odd)+" is changed", changed() || otherChanged(), false)
+	}
+}
+
+// spoilAll writes into all memory of what a function of chapter 3 returns.
+func spoilAll(result any) {
+	switch r := result.(type) {
+	case impl.Log:
+		for _, m := range r.Messages {
+			overwrite(m.Likes)
+		}
+		spoil(r.Messages, said(-7, -7, -7, "spoiled", -7))
+	case impl.Message:
+		overwrite(r.Likes)
+	case []int64:
+		overwrite(r)
+	case [][]int64:
+		for _, row := range r {
+			overwrite(row)
+		}
+		spoil(r, []int64{-7})
+	}
+}
+
+// Promise 1 for logs: each list of a result is new memory, in which no other one lies.
+func TestLogsAreNewMemory(t *testing.T) {
+	l, changed := spareLog(talk())
+	calls := slices.Concat(goodActs(l), asksOf(l, 2, 0)[:4], asksOf(l, 13, 0)[:1], asksOf(l, 7, 0)[4:])
+	calls = append(calls, call{"CountsOf", func() []any { counts, ok := impl.CountsOf(l); return []any{counts, ok} }})
+	for _, c := range calls {
+		first, second := c.run(), c.run()
+		isBool(t, c.name, first[len(first)-1].(bool), true)
+		kept := fmt.Sprintf("%+v", first)
+		spoilAll(second[0])
+		isBool(t, c.name+": the log is changed", changed(), false)
+		isBool(t, c.name+": the other result is kept", fmt.Sprintf("%+v", first) == kept, true)
+		isBool(t, c.name+": the next result is the same", fmt.Sprintf("%+v", c.run()) == kept, true)
+	}
+}
+
+// Promise 1 for logs: no two lists of one result share memory.
+func TestListsOfALogAreApart(t *testing.T) {
+	for _, c := range goodActs(talk()) {
+		after := c.run()[0].(impl.Log)
+		for i, m := range after.Messages {
+			others := but(after, func(l *impl.Log) { l.Messages = slices.Delete(l.Messages, i, i+1) })
+			overwrite(m.Likes)
+			rest := impl.Log{Next: after.Next, Messages: slices.Delete(slices.Clone(after.Messages), i, i+1)}
+			isLog(t, c.name+": the other messages", rest, true, others)
+		}
+	}
+	counts, _ := impl.CountsOf(talk())
+	overwrite(counts[0])
+	isList(t, "the other row", counts[1], true, 8, 2, 0, 0)
+}
+
+// Promise 1 for logs: nil and an empty list are the same in a log.
+func TestNilIsAnEmptyListOfALog(t *testing.T) {
+	empty := but(talk(), func(l *impl.Log) {
+		for i := range l.Messages {
+			l.Messages[i].Likes = append([]int64{}, l.Messages[i].Likes...)
+		}
+	})
+	for i, c := range goodActs(talk()) {
+		one, other := c.run(), goodActs(empty)[i].run()
+		isLog(t, c.name, one[0].(impl.Log), other[len(other)-1].(bool), other[0].(impl.Log))
+	}
+	for _, messages := range [][]impl.Message{nil, {}} {
+		l := impl.Log{Next: 1, Messages: messages}
+		isBool(t, "ValidLog", impl.ValidLog(l), true)
+		after, number, ok := impl.PostMessage(l, 7, 0, "x", 0)
+		isLog(t, "PostMessage", after, ok, impl.Log{Next: 2, Messages: []impl.Message{said(1, 7, 0, "x", 0)}})
+		isValue(t, "PostMessage", number, ok, 1)
 	}
 }
