@@ -224,10 +224,97 @@ func callsOfLogs() []call {
 	return calls
 }
 
+func oddPosts() []impl.Post {
+	huge := impl.Post{Limit: impl.MaxHeld, Boxes: make([]impl.Box, 20000)}
+	for i := range huge.Boxes {
+		huge.Boxes[i] = box(tokenAt(i), 1, 0)
+	}
+	posts := []impl.Post{
+		mail(), fullPost(), huge, {Limit: 1}, {Limit: 3}, {Limit: math.MinInt64}, {Limit: math.MaxInt64, Boxes: mail().Boxes},
+		{Limit: math.MinInt64, Boxes: []impl.Box{box("", math.MinInt64, math.MaxInt64, parcel(math.MinInt64, math.MaxInt64))}},
+		{Limit: 5, Boxes: []impl.Box{box(first, 1, 0, parcels(20000)...)}}, {Limit: 5, Boxes: []impl.Box{box(strings.Repeat("x", 100000), 1, 0)}},
+		butBox(first, func(b *impl.Box) { b.Missed = math.MaxInt64 }), butPost(mail(), func(p *impl.Post) { p.Limit = impl.MaxHeld }),
+	}
+	bad := badPosts()
+	for _, name := range slices.Sorted(maps.Keys(bad)) {
+		posts = append(posts, bad[name])
+	}
+	return posts
+}
+
+// postTokens are those of the boxes of mail, of fullPost, and strings that are none.
+func postTokens() []string {
+	return slices.Concat([]string{zeros, first, second, mixed, ends, tokenAt(0), tokenAt(31), tokenAt(32)}, notTokens())
+}
+
+// postNumbers are those with which the functions with posts succeed, and odd ones.
+func postNumbers() []int64 {
+	return slices.Concat([]int64{0, 1, 1, 1, 2, 2, 3, 3, 7, 8, 63, impl.MaxHeld, impl.MaxHeld + 1, impl.MaxRoom}, oddNumbers())
+}
+
+func oddParcelLists() [][]impl.Parcel {
+	return append(notParcelLists(), nil, []impl.Parcel{}, parcels(1), parcels(2), parcels(3), parcels(30), parcels(impl.MaxHeld))
+}
+
+func oddSets() [][]int64 {
+	return slices.Concat(notSets(), oddLists(), [][]int64{{7}, {8}, {7, 8}, {1, 7, 8}, {1, 7, 8, impl.MaxMember}})
+}
+
+// movesOf sends the first one of the parcels by SendTo, and what is no parcel if there is none.
+func movesOf(p impl.Post, token string, number int64, members []int64, list []impl.Parcel) []call {
+	var one impl.Parcel
+	if len(list) > 0 {
+		one = list[0]
+	}
+	return []call{
+		{"AddBox", func() []any { after, ok := impl.AddBox(p, token, number); return []any{after, ok} }},
+		{"DropBox", func() []any { after, ok := impl.DropBox(p, token); return []any{after, ok} }},
+		{"SendTo", func() []any { after, got, ok := impl.SendTo(p, members, one); return []any{after, got, ok} }},
+		{"SendAll", func() []any { after, got, ok := impl.SendAll(p, members, list); return []any{after, got, ok} }},
+		{"TakeFrom", func() []any {
+			after, taken, missed, ok := impl.TakeFrom(p, token, number)
+			return []any{after, taken, missed, ok}
+		}},
+		{"ReturnTo", func() []any { after, ok := impl.ReturnTo(p, token, list); return []any{after, ok} }},
+		{"WithoutRoom", func() []any { after, ok := impl.WithoutRoom(p, number); return []any{after, ok} }},
+		{"WithLimit", func() []any { after, ok := impl.WithLimit(p, number); return []any{after, ok} }},
+		{"TokensOf", func() []any { tokens, ok := impl.TokensOf(p, number); return []any{tokens, ok} }},
+		{"LoadsOf", func() []any { loads, ok := impl.LoadsOf(p); return []any{loads, ok} }},
+	}
+}
+
+// callsOfPosts calls every function of chapter 4, with a choice of tokens, numbers, sets and parcels.
+func callsOfPosts() []call {
+	rounds := rand.New(rand.NewSource(9))
+	pick := func() int64 { return postNumbers()[rounds.Intn(len(postNumbers()))] }
+	var calls []call
+	for _, n := range oddNumbers() {
+		calls = append(calls, call{"NewPost", func() []any { p, ok := impl.NewPost(n); return []any{p, ok} }})
+	}
+	for _, list := range oddParcelLists() {
+		calls = append(calls, call{"RoomsIn", func() []any { rooms, ok := impl.RoomsIn(list); return []any{rooms, ok} }})
+		for _, last := range postNumbers() {
+			calls = append(calls, call{"FairOrder", func() []any { fair, ok := impl.FairOrder(list, last); return []any{fair, ok} }})
+		}
+	}
+	lists, sets := oddParcelLists(), oddSets()
+	for _, p := range oddPosts() {
+		calls = append(calls, call{"ValidPost", func() []any { return []any{impl.ValidPost(p)} }})
+		for _, other := range oddPosts() {
+			calls = append(calls, call{"SamePost", func() []any { return []any{impl.SamePost(p, other)} }})
+		}
+		for range 200 {
+			token, members, list := postTokens()[rounds.Intn(len(postTokens()))], sets[rounds.Intn(len(sets))], lists[rounds.Intn(len(lists))]
+			calls = append(calls, movesOf(p, token, pick(), members, list)...)
+		}
+	}
+	return calls
+}
+
 // Promise 1: every function returns for all arguments, with equal results for equal ones.
 // What fails has zero values as its other results.
 func TestCallsReturnAndAreEqual(t *testing.T) {
-	for _, c := range slices.Concat(callsOfNumbers(), callsOfStrings(), callsOfLists(), callsOfRooms(), callsOfLogs()) {
+	for _, c := range slices.Concat(callsOfNumbers(), callsOfStrings(), callsOfLists(), callsOfRooms(), callsOfLogs(), callsOfPosts()) {
 		first, second := c.run(), c.run()
 		if !reflect.DeepEqual(first, second) {
 			t.Errorf("%s: %v, then %v", c.name, first, second)
@@ -538,5 +625,139 @@ func TestNilIsAnEmptyListOfALog(t *testing.T) {
 		after, number, ok := impl.PostMessage(l, 7, 0, "x", 0)
 		isLog(t, "PostMessage", after, ok, impl.Log{Next: 2, Messages: []impl.Message{said(1, 7, 0, "x", 0)}})
 		isValue(t, "PostMessage", number, ok, 1)
+	}
+}
+
+// sparePost is spare for all lists of a post.
+func sparePost(p impl.Post) (impl.Post, func() bool) {
+	whole := copyOfPost(impl.Post{Boxes: append(slices.Clone(p.Boxes), box("spare", -5, -5, parcel(-5, -5)), box(ends, 7, 0))})
+	kept := copyOfPost(whole)
+	var changes []func() bool
+	for i, b := range whole.Boxes {
+		held, changed := spare(b.Held, parcel(-5, 9), parcel(1, 1), parcel(999, 9))
+		whole.Boxes[i].Held = held
+		changes = append(changes, changed)
+	}
+	return impl.Post{Limit: p.Limit, Boxes: whole.Boxes[:len(p.Boxes)]}, func() bool {
+		return postText(whole) != postText(kept) || slices.ContainsFunc(changes, func(changed func() bool) bool { return changed() })
+	}
+}
+
+// goodMoves are calls of all functions that return a post that has been changed, and of the others with posts; they succeed for mail.
+func goodMoves(p impl.Post, members []int64, list []impl.Parcel) []call {
+	good := movesOf(p, first, 2, members, list)
+	good[0] = movesOf(p, "bbbbbbbbbbbbbbbb", 2, nil, nil)[0]
+	return append(good, movesOf(p, zeros, 1, nil, list)[4:7]...)
+}
+
+// Promise 1 for posts: no function of chapter 4 modifies an argument.
+func TestPostsStayAsTheyAre(t *testing.T) {
+	rounds := rand.New(rand.NewSource(10))
+	for _, odd := range oddPosts() {
+		if len(odd.Boxes) > 100 {
+			continue
+		}
+		p, changed := sparePost(odd)
+		other, otherChanged := sparePost(odd)
+		members, membersChanged := spare([]int64{1, 7, 8}, 9, -5, 7)
+		list, listChanged := spare([]impl.Parcel{parcel(3, 3), parcel(1, 2), parcel(3, 1), parcel(2, 4)}, parcel(2, 2), parcel(-5, 0))
+		impl.ValidPost(p)
+		impl.SamePost(p, other)
+		impl.RoomsIn(list)
+		impl.FairOrder(list, 2)
+		calls := goodMoves(p, members, list)
+		for range 100 {
+			token, number := postTokens()[rounds.Intn(len(postTokens()))], postNumbers()[rounds.Intn(14)]
+			calls = append(calls, movesOf(p, token, number, members, list)...)
+			calls = append(calls, movesOf(p, token, number, members, list[:rounds.Intn(3)])...)
+		}
+		for _, c := range calls {
+			c.run()
+		}
+		isBool(t, postText(odd)+" is changed", changed() || otherChanged(), false)
+		isBool(t, "the members or the parcels are changed", membersChanged() || listChanged(), false)
+	}
+}
+
+// spoilPost writes into all memory of what a function of chapter 4 returns.
+func spoilPost(result any) {
+	switch r := result.(type) {
+	case impl.Post:
+		for _, b := range r.Boxes {
+			spoil(b.Held, parcel(-7, -7))
+		}
+		spoil(r.Boxes, box("spoiled", -7, -7))
+	case []impl.Parcel:
+		spoil(r, parcel(-7, -7))
+	case []string:
+		spoil(r, "spoiled")
+	case []int64:
+		overwrite(r)
+	}
+}
+
+// Promise 1 for posts: each list of a result is new memory.
+func TestPostsAreNewMemory(t *testing.T) {
+	p, changed := sparePost(mail())
+	members, membersChanged := spare([]int64{1, 7, 8}, 9)
+	list, listChanged := spare([]impl.Parcel{parcel(3, 3), parcel(1, 2)}, parcel(2, 2), parcel(9, 9))
+	calls := append(goodMoves(p, members, list), goodMoves(p, nil, list[:1])...)
+	calls = append(calls,
+		call{"RoomsIn", func() []any { rooms, ok := impl.RoomsIn(list); return []any{rooms, ok} }},
+		call{"FairOrder", func() []any { fair, ok := impl.FairOrder(list, 2); return []any{fair, ok} }},
+		call{"FairOrder of one", func() []any { fair, ok := impl.FairOrder(list[:1], 2); return []any{fair, ok} }})
+	for _, c := range calls {
+		one, other := c.run(), c.run()
+		last := len(one) - 1
+		isBool(t, c.name, one[last].(bool), true)
+		kept := fmt.Sprintf("%+v", one)
+		for _, result := range other[:last] {
+			spoilPost(result)
+		}
+		isBool(t, c.name+": the post is changed", changed() || membersChanged() || listChanged(), false)
+		isBool(t, c.name+": the other result is kept", fmt.Sprintf("%+v", one) == kept, true)
+		isBool(t, c.name+": the next result is the same", fmt.Sprintf("%+v", c.run()) == kept, true)
+	}
+}
+
+// Promise 1 for posts: no two lists of one result share memory.
+func TestListsOfAPostAreApart(t *testing.T) {
+	for _, c := range goodMoves(mail(), []int64{1, 7, 8}, []impl.Parcel{parcel(3, 3), parcel(1, 2)})[:8] {
+		after := c.run()[0].(impl.Post)
+		want := copyOfPost(after)
+		for i, b := range after.Boxes {
+			held := slices.Clone(b.Held)
+			spoil(b.Held, parcel(-7, -7))
+			want.Boxes[i].Held = b.Held
+			isPost(t, c.name+": the other boxes", after, true, want)
+			copy(b.Held, held)
+		}
+	}
+	for _, count := range []int64{0, 1, 2, 3, impl.MaxHeld} {
+		after, taken, _, _ := impl.TakeFrom(mail(), first, count)
+		kept, keptTaken := copyOfPost(after), slices.Clone(taken)
+		spoil(taken, parcel(-7, -7))
+		isPost(t, fmt.Sprint("the post without ", count), after, true, kept)
+		after, taken, _, _ = impl.TakeFrom(mail(), first, count)
+		spoilPost(after)
+		isList(t, fmt.Sprint("the first ", count), taken, true, keptTaken...)
+	}
+}
+
+// Promise 1 for posts: nil and an empty list are the same in a post.
+func TestNilIsAnEmptyListOfAPost(t *testing.T) {
+	empty := butBox(zeros, func(b *impl.Box) { b.Held = []impl.Parcel{} })
+	for _, list := range [][]impl.Parcel{parcels(3), parcels(1)} {
+		for i, c := range goodMoves(mail(), []int64{7}, list) {
+			one, other := c.run(), goodMoves(empty, []int64{7}, list)[i].run()
+			isBool(t, c.name, fmt.Sprintf("%+v", one) == fmt.Sprintf("%+v", other), true)
+		}
+	}
+	all, got, ok := impl.SendAll(mail(), []int64{}, []impl.Parcel{})
+	isPost(t, "SendAll", all, ok, mail())
+	isValue(t, "SendAll", got, ok, 0)
+	for _, boxes := range [][]impl.Box{nil, {}} {
+		p, ok := impl.AddBox(impl.Post{Limit: 2, Boxes: boxes}, first, 7)
+		isPost(t, "AddBox", p, ok, impl.Post{Limit: 2, Boxes: []impl.Box{box(first, 7, 0)}})
 	}
 }
