@@ -311,10 +311,88 @@ func callsOfPosts() []call {
 	return calls
 }
 
+func oddPresences() []impl.Presence {
+	huge := impl.Presence{Here: make([]impl.Lease, 20000), Typing: make([]impl.Lease, 20000), Marks: make([]impl.Mark, 20000)}
+	for i := range huge.Here {
+		member := int64(i) + 1
+		huge.Here[i], huge.Typing[i], huge.Marks[i] = lease(member, 5), lease(member, 5), mark(member, 5)
+	}
+	presences := []impl.Presence{
+		{}, evening(), fullPresence(), huge, {Here: huge.Here[:31]}, {Typing: huge.Typing[:31]}, {Marks: huge.Marks[:31]}, {Marks: huge.Marks[:30]},
+		{Here: []impl.Lease{lease(math.MinInt64, math.MaxInt64)}, Typing: []impl.Lease{lease(math.MaxInt64, math.MinInt64)}, Marks: []impl.Mark{mark(math.MinInt64, math.MinInt64)}},
+	}
+	bad := badPresences()
+	for _, name := range slices.Sorted(maps.Keys(bad)) {
+		presences = append(presences, bad[name])
+	}
+	return presences
+}
+
+// presenceNumbers are those with which the functions with presences succeed, and odd ones.
+func presenceNumbers() []int64 {
+	return slices.Concat([]int64{0, 1, 2, 3, 3, 5, 5, 7, 9, 9, 10, 12, 14, 15, 19, 20, 25, 300, impl.MaxLease, impl.MaxTick - 6}, oddNumbers())
+}
+
+// visitsOf changes a presence and asks it, with one number for each kind.
+func visitsOf(p, other impl.Presence, member, now, number int64) []call {
+	return []call{
+		{"Heartbeat", func() []any { after, ok := impl.Heartbeat(p, member, now, number); return []any{after, ok} }},
+		{"LeaveNow", func() []any { after, ok := impl.LeaveNow(p, member); return []any{after, ok} }},
+		{"StartTyping", func() []any { after, ok := impl.StartTyping(p, member, now); return []any{after, ok} }},
+		{"SweepPresence", func() []any { after, ok := impl.SweepPresence(p, now); return []any{after, ok} }},
+		{"ReadUpTo", func() []any { after, ok := impl.ReadUpTo(p, member, number); return []any{after, ok} }},
+		{"JoinPresence", func() []any { after, ok := impl.JoinPresence(p, other); return []any{after, ok} }},
+		{"PresentAt", func() []any { list, ok := impl.PresentAt(p, now); return []any{list, ok} }},
+		{"TypingAt", func() []any { list, ok := impl.TypingAt(p, now); return []any{list, ok} }},
+		{"HaveRead", func() []any { list, ok := impl.HaveRead(p, number); return []any{list, ok} }},
+		{"NextChange", func() []any { next, ok := impl.NextChange(p, now); return []any{next, ok} }},
+		{"MarkOf", func() []any { upto, ok := impl.MarkOf(p, member); return []any{upto, ok} }},
+	}
+}
+
+// unreadOf asks presences and logs what a member has not read.
+func unreadOf(presences []impl.Presence, logs []impl.Log, member int64) []call {
+	calls := []call{{"BadgeOf", func() []any {
+		all, mentioning, ok := impl.BadgeOf(presences, logs, member)
+		return []any{all, mentioning, ok}
+	}}}
+	for i := range min(len(presences), len(logs)) {
+		calls = append(calls, call{"UnreadOf", func() []any {
+			list, ok := impl.UnreadOf(presences[i], logs[i], member)
+			return []any{list, ok}
+		}})
+	}
+	return calls
+}
+
+// callsOfPresences calls every function of chapter 5, with a choice of the numbers and logs.
+func callsOfPresences() []call {
+	rounds := rand.New(rand.NewSource(12))
+	pick := func() int64 { return presenceNumbers()[rounds.Intn(len(presenceNumbers()))] }
+	presences, logs := oddPresences(), oddLogs()
+	var calls []call
+	for _, p := range presences {
+		calls = append(calls, call{"ValidPresence", func() []any { return []any{impl.ValidPresence(p)} }})
+		for _, other := range presences {
+			calls = append(calls,
+				call{"SamePresence", func() []any { return []any{impl.SamePresence(p, other)} }},
+				call{"JoinPresence", func() []any { after, ok := impl.JoinPresence(p, other); return []any{after, ok} }})
+		}
+		for range 100 {
+			calls = append(calls, visitsOf(p, presences[rounds.Intn(len(presences))], pick(), pick(), pick())...)
+			calls = append(calls, unreadOf([]impl.Presence{p}, []impl.Log{logs[rounds.Intn(len(logs))]}, pick())...)
+		}
+	}
+	for range 300 {
+		calls = append(calls, unreadOf(presences[:rounds.Intn(5)], logs[:rounds.Intn(5)], pick())...)
+	}
+	return append(calls, unreadOf(make([]impl.Presence, 20000), make([]impl.Log, 20000), 7)[0])
+}
+
 // Promise 1: every function returns for all arguments, with equal results for equal ones.
 // What fails has zero values as its other results.
 func TestCallsReturnAndAreEqual(t *testing.T) {
-	for _, c := range slices.Concat(callsOfNumbers(), callsOfStrings(), callsOfLists(), callsOfRooms(), callsOfLogs(), callsOfPosts()) {
+	for _, c := range slices.Concat(callsOfNumbers(), callsOfStrings(), callsOfLists(), callsOfRooms(), callsOfLogs(), callsOfPosts(), callsOfPresences()) {
 		first, second := c.run(), c.run()
 		if !reflect.DeepEqual(first, second) {
 			t.Errorf("%s: %v, then %v", c.name, first, second)
@@ -759,5 +837,113 @@ func TestNilIsAnEmptyListOfAPost(t *testing.T) {
 	for _, boxes := range [][]impl.Box{nil, {}} {
 		p, ok := impl.AddBox(impl.Post{Limit: 2, Boxes: boxes}, first, 7)
 		isPost(t, "AddBox", p, ok, impl.Post{Limit: 2, Boxes: []impl.Box{box(first, 7, 0)}})
+	}
+}
+
+// sparePresence is spare for all lists of a presence.
+func sparePresence(p impl.Presence) (impl.Presence, func() bool) {
+	here, hereChanged := spare(p.Here, lease(-5, 9), lease(301, 9))
+	typing, typingChanged := spare(p.Typing, lease(-5, 9), lease(301, 9))
+	marks, marksChanged := spare(p.Marks, mark(-5, 9), mark(301, 9))
+	return impl.Presence{Here: here, Typing: typing, Marks: marks}, func() bool { return hereChanged() || typingChanged() || marksChanged() }
+}
+
+// goodVisits are calls of all functions with presences; they succeed for evening.
+func goodVisits(p, other impl.Presence) []call {
+	good := append(visitsOf(p, other, 9, 10, 3), visitsOf(p, other, 5, 13, 30)...)
+	// What changes nothing returns new memory too.
+	good = append(good, visitsOf(p, impl.Presence{}, 3, 0, 7)...)
+	return append(good, visitsOf(impl.Presence{}, p, 3, 0, 7)[5])
+}
+
+// Promise 1 for presences: no function of chapter 5 modifies an argument.
+func TestPresencesStayAsTheyAre(t *testing.T) {
+	rounds := rand.New(rand.NewSource(13))
+	pick := func() int64 { return presenceNumbers()[rounds.Intn(len(presenceNumbers()))] }
+	for _, odd := range oddPresences() {
+		if len(odd.Here) > 100 {
+			continue
+		}
+		p, changed := sparePresence(odd)
+		other, otherChanged := sparePresence(evening())
+		l, logChanged := spareLog(talk())
+		impl.ValidPresence(p)
+		impl.SamePresence(p, other)
+		presences, logs := []impl.Presence{p, other, p}, []impl.Log{l, l, l}
+		calls := append(goodVisits(p, other), goodVisits(other, p)...)
+		for range 100 {
+			calls = append(calls, visitsOf(p, other, pick(), pick(), pick())...)
+			calls = append(calls, unreadOf(presences[:2], logs[:2], pick())...)
+		}
+		for _, c := range calls {
+			c.run()
+		}
+		isBool(t, presenceText(odd)+" is changed", changed() || otherChanged(), false)
+		isBool(t, "the log is changed", logChanged(), false)
+		isBool(t, "the presences are changed", presenceText(presences[0]) == presenceText(odd) && presenceText(presences[2]) == presenceText(odd), true)
+	}
+}
+
+// spoilPresence writes into all memory of what a function of chapter 5 returns.
+func spoilPresence(result any) {
+	switch r := result.(type) {
+	case impl.Presence:
+		spoil(r.Here, lease(-7, -7))
+		spoil(r.Typing, lease(-7, -7))
+		spoil(r.Marks, mark(-7, -7))
+	case []int64:
+		overwrite(r)
+	}
+}
+
+// Promise 1 for presences: each list of a result is new memory.
+func TestPresencesAreNewMemory(t *testing.T) {
+	p, changed := sparePresence(evening())
+	other, otherChanged := sparePresence(impl.Presence{Here: []impl.Lease{lease(4, 8)}, Typing: []impl.Lease{lease(4, 8)}, Marks: []impl.Mark{mark(4, 8)}})
+	l, logChanged := spareLog(talk())
+	calls := append(goodVisits(p, other), unreadOf([]impl.Presence{p, other}, []impl.Log{l, l}, 7)...)
+	for _, c := range calls {
+		one, second := c.run(), c.run()
+		isBool(t, c.name, one[len(one)-1].(bool), true)
+		kept := fmt.Sprintf("%+v", one)
+		spoilPresence(second[0])
+		isBool(t, c.name+": an argument is changed", changed() || otherChanged() || logChanged(), false)
+		isBool(t, c.name+": the other result is kept", fmt.Sprintf("%+v", one) == kept, true)
+		isBool(t, c.name+": the next result is the same", fmt.Sprintf("%+v", c.run()) == kept, true)
+	}
+}
+
+// Promise 1 for presences: no two lists of one result share memory.
+func TestListsOfAPresenceAreApart(t *testing.T) {
+	// Here and Typing hold the same leases, so that one list could stand for both.
+	same := butPresence(evening(), func(p *impl.Presence) { p.Typing = p.Here })
+	for _, c := range goodVisits(same, same) {
+		after, isPresence := c.run()[0].(impl.Presence)
+		if !isPresence {
+			continue
+		}
+		here, typing := slices.Clone(after.Here), slices.Clone(after.Typing)
+		spoil(after.Here, lease(-7, -7))
+		isList(t, c.name+": Typing", after.Typing, true, typing...)
+		copy(after.Here, here)
+		spoil(after.Typing, lease(-7, -7))
+		isList(t, c.name+": Here", after.Here, true, here...)
+	}
+}
+
+// Promise 1 for presences: nil and an empty list are the same in a presence.
+func TestNilIsAnEmptyListOfAPresence(t *testing.T) {
+	none := impl.Presence{}
+	empty := impl.Presence{Here: []impl.Lease{}, Typing: []impl.Lease{}, Marks: []impl.Mark{}}
+	isBool(t, "ValidPresence", impl.ValidPresence(none) && impl.ValidPresence(empty), true)
+	for _, both := range [][2][]call{
+		{goodVisits(none, evening()), goodVisits(empty, evening())}, {goodVisits(evening(), none), goodVisits(evening(), empty)},
+		{unreadOf([]impl.Presence{none}, []impl.Log{talk()}, 7), unreadOf([]impl.Presence{empty}, []impl.Log{talk()}, 7)},
+		{unreadOf(nil, nil, 7), unreadOf([]impl.Presence{}, []impl.Log{}, 7)},
+	} {
+		for i, c := range both[0] {
+			one, other := c.run(), both[1][i].run()
+			isBool(t, c.name, fmt.Sprintf("%+v", one) == fmt.Sprintf("%+v", other), true)
+		}
 	}
 }
