@@ -1,6 +1,7 @@
 package impl
 
 import (
+	"iter"
 	"slices"
 	"strconv"
 	"strings"
@@ -205,21 +206,8 @@ func WordsOf(text string) ([]string, bool) {
 		return nil, false
 	}
 	var words []string
-	var word []rune
-	// The blank ends a word that reaches to the end of the text.
-	for _, r := range text + " " {
-		switch {
-		case 'A' <= r && r <= 'Z':
-			r += 'a' - 'A'
-			fallthrough
-		case isSmallLetter(r), isDigit(r):
-			word = append(word, r)
-		default:
-			if len(word) > 0 {
-				words = append(words, string(word))
-			}
-			word = word[:0]
-		}
+	for _, word := range runsOf(text) {
+		words = append(words, word)
 	}
 	return words, true
 }
@@ -272,6 +260,28 @@ func isTick(n int64) bool { return n >= 0 && n <= MaxTick }
 func isSmallLetter(r rune) bool { return 'a' <= r && r <= 'z' }
 
 func isDigit(r rune) bool { return '0' <= r && r <= '9' }
+
+// runsOf yields the runs of letters and digits of a text: where each one begins, and its word, which is as long as it.
+func runsOf(text string) iter.Seq2[int, string] {
+	return func(yield func(start int, word string) bool) {
+		var word []rune
+		// The blank ends a run that reaches to the end of the text.
+		for i, r := range text + " " {
+			switch {
+			case 'A' <= r && r <= 'Z':
+				r += 'a' - 'A'
+				fallthrough
+			case isSmallLetter(r), isDigit(r):
+				word = append(word, r)
+			default:
+				if len(word) > 0 && !yield(i-len(word), string(word)) {
+					return
+				}
+				word = word[:0]
+			}
+		}
+	}
+}
 
 // leadingDigits returns the digits with which s begins.
 func leadingDigits(s string) string {

@@ -389,10 +389,124 @@ func callsOfPresences() []call {
 	return append(calls, unreadOf(make([]impl.Presence, 20000), make([]impl.Log, 20000), 7)[0])
 }
 
+// limitNumbers are those with which the functions with limits succeed, and odd ones.
+func limitNumbers() []int64 {
+	return slices.Concat([]int64{0, 1, 1, 2, 3, 5, 5, 7, 9, 10, 10, 12, 20, 30, impl.MaxStrikes, impl.MaxCalls, impl.MaxCalls + 1, 1000, 1001}, oddNumbers())
+}
+
+// oddBuckets are all valid but those of badBuckets.
+func oddBuckets() []impl.Bucket {
+	buckets := []impl.Bucket{bucket(3, 10, 2, 5), bucket(3, 10, 3, 0), bucket(1, 1, 0, 0), bucket(1000, impl.MaxTick, 0, 0), bucket(1000, 1, 1000, impl.MaxTick)}
+	bad := badBuckets()
+	for _, name := range slices.Sorted(maps.Keys(bad)) {
+		buckets = append(buckets, bad[name])
+	}
+	return buckets
+}
+
+func oddTimes() [][]int64 {
+	times := append(oddLists(), []int64{0, 0, 9, 10}, []int64{5, 5, 14, 15, 16, 900}, upTo(impl.MaxCalls), make([]int64, impl.MaxCalls))
+	bad := notTimes()
+	for _, name := range slices.Sorted(maps.Keys(bad)) {
+		times = append(times, bad[name])
+	}
+	return times
+}
+
+func oddWords() [][]string {
+	words := [][]string{nil, {}, {"a"}, {"bad", "cat"}, {"hi", "room", "x"}, namesUpTo(impl.MaxWords), oddStrings()}
+	bad := notBadWords()
+	for _, name := range slices.Sorted(maps.Keys(bad)) {
+		words = append(words, bad[name])
+	}
+	return words
+}
+
+func oddStrikes() [][]impl.Strike {
+	strikes := [][]impl.Strike{nil, {}, trouble(), manyStrikes(impl.MaxStrikes)}
+	bad := notStrikes()
+	for _, name := range slices.Sorted(maps.Keys(bad)) {
+		strikes = append(strikes, bad[name])
+	}
+	return strikes
+}
+
+// dropsOf asks a bucket for drops.
+func dropsOf(b impl.Bucket, count, at int64) []call {
+	return []call{
+		{"ValidBucket", func() []any { return []any{impl.ValidBucket(b)} }},
+		{"LeftAt", func() []any { left, ok := impl.LeftAt(b, at); return []any{left, ok} }},
+		{"TakeBucket", func() []any { after, did, ok := impl.TakeBucket(b, count, at); return []any{after, did, ok} }},
+		{"WaitFor", func() []any { wait, ok := impl.WaitFor(b, count, at); return []any{wait, ok} }},
+	}
+}
+
+// runsOf makes calls at ticks.
+func runsOf(b impl.Bucket, times []int64, window, most int64) []call {
+	return []call{
+		{"RunBucket", func() []any { end, through, ok := impl.RunBucket(b, times); return []any{end, through, ok} }},
+		{"RunWindow", func() []any { through, ok := impl.RunWindow(times, window, most); return []any{through, ok} }},
+	}
+}
+
+// wordsIn looks for words in a text.
+func wordsIn(text string, words []string) []call {
+	return []call{
+		{"AreBadWords", func() []any { return []any{impl.AreBadWords(words)} }},
+		{"HasBadWord", func() []any { return []any{impl.HasBadWord(text, words)} }},
+		{"BadWordsIn", func() []any { found, ok := impl.BadWordsIn(text, words); return []any{found, ok} }},
+		{"CensorText", func() []any { censored, ok := impl.CensorText(text, words); return []any{censored, ok} }},
+	}
+}
+
+// strikesOf adds a strike and asks for what there is, with one number for each kind.
+func strikesOf(strikes []impl.Strike, one impl.Strike, member, at, fade, count int64) []call {
+	return []call{
+		{"AreStrikes", func() []any { return []any{impl.AreStrikes(strikes)} }},
+		{"AddStrike", func() []any { more, ok := impl.AddStrike(strikes, one); return []any{more, ok} }},
+		{"ForgiveOld", func() []any { kept, ok := impl.ForgiveOld(strikes, at); return []any{kept, ok} }},
+		{"WorstMembers", func() []any { worst, ok := impl.WorstMembers(strikes, at, fade, count); return []any{worst, ok} }},
+		{"PointsOf", func() []any { points, ok := impl.PointsOf(strikes, member, at, fade); return []any{points, ok} }},
+	}
+}
+
+// callsOfLimits calls every function of chapter 6, with a choice of the numbers.
+func callsOfLimits() []call {
+	rounds := rand.New(rand.NewSource(20))
+	pick := func() int64 { return limitNumbers()[rounds.Intn(len(limitNumbers()))] }
+	var calls []call
+	for _, n := range limitNumbers() {
+		calls = append(calls, call{"PenaltyOf", func() []any { return []any{impl.PenaltyOf(n)} }})
+		for range 100 {
+			every, at := pick(), pick()
+			calls = append(calls, call{"NewBucket", func() []any { b, ok := impl.NewBucket(n, every, at); return []any{b, ok} }})
+		}
+	}
+	for _, b := range oddBuckets() {
+		for range 200 {
+			calls = append(calls, dropsOf(b, pick(), pick())...)
+		}
+		for _, times := range oddTimes() {
+			calls = append(calls, runsOf(b, times, pick(), pick())...)
+		}
+	}
+	for _, words := range oddWords() {
+		for _, text := range append(oddStrings(), "a bad Cat", "BAD") {
+			calls = append(calls, wordsIn(text, words)...)
+		}
+	}
+	for _, strikes := range oddStrikes() {
+		for range 100 {
+			calls = append(calls, strikesOf(strikes, strike(pick(), pick()%4, pick()), pick(), pick(), pick(), pick())...)
+		}
+	}
+	return calls
+}
+
 // Promise 1: every function returns for all arguments, with equal results for equal ones.
 // What fails has zero values as its other results.
 func TestCallsReturnAndAreEqual(t *testing.T) {
-	for _, c := range slices.Concat(callsOfNumbers(), callsOfStrings(), callsOfLists(), callsOfRooms(), callsOfLogs(), callsOfPosts(), callsOfPresences()) {
+	for _, c := range slices.Concat(callsOfNumbers(), callsOfStrings(), callsOfLists(), callsOfRooms(), callsOfLogs(), callsOfPosts(), callsOfPresences(), callsOfLimits()) {
 		first, second := c.run(), c.run()
 		if !reflect.DeepEqual(first, second) {
 			t.Errorf("%s: %v, then %v", c.name, first, second)
@@ -944,6 +1058,97 @@ func TestNilIsAnEmptyListOfAPresence(t *testing.T) {
 		for i, c := range both[0] {
 			one, other := c.run(), both[1][i].run()
 			isBool(t, c.name, fmt.Sprintf("%+v", one) == fmt.Sprintf("%+v", other), true)
+		}
+	}
+}
+
+// goodLimits are calls of all functions of chapter 6 with lists; they succeed for the lists that TestLimitsAreNewMemory has.
+func goodLimits(times []int64, words []string, strikes []impl.Strike) []call {
+	calls := append(runsOf(bucket(2, 10, 2, 0), times, 10, 2), wordsIn("a bad dog, BAD cat", words)...)
+	calls = append(calls, wordsIn("all is well", words)...)
+	calls = append(calls, strikesOf(strikes, strike(7, impl.StrikeFlood, impl.MaxTick), 2, 10, 10, 64)...)
+	// Where all strikes stay, and where none do.
+	calls = append(calls, strikesOf(strikes, strike(1, impl.StrikeWord, impl.MaxTick), 2, 0, 10, 0)...)
+	return append(calls, strikesOf(strikes, strike(1, impl.StrikeTaken, impl.MaxTick), 2, impl.MaxTick, 1, 1)...)
+}
+
+// Promise 1 for limits: no function of chapter 6 modifies an argument.
+func TestLimitsStayAsTheyAre(t *testing.T) {
+	rounds := rand.New(rand.NewSource(21))
+	pick := func() int64 { return limitNumbers()[rounds.Intn(19)] }
+	for _, odd := range oddTimes() {
+		times, changed := spare(odd, -5, 9, impl.MaxTick)
+		for range 20 {
+			for _, c := range runsOf(bucket(1+rounds.Int63n(3), 10, 1, 0), times, pick(), pick()) {
+				c.run()
+			}
+		}
+		isBool(t, fmt.Sprint("the ticks ", odd, " are changed"), changed(), false)
+	}
+	for _, odd := range oddWords() {
+		words, changed := spare(odd, "", "zzz", "bad")
+		for _, text := range append(oddStrings(), "a bad Cat", "BAD") {
+			for _, c := range wordsIn(text, words) {
+				c.run()
+			}
+		}
+		isBool(t, fmt.Sprint("the words ", odd, " are changed"), changed(), false)
+	}
+	for _, odd := range oddStrikes() {
+		strikes, changed := spare(odd, strike(-5, -5, -5), strike(7, 1, impl.MaxTick))
+		for range 100 {
+			for _, c := range strikesOf(strikes, strike(7, impl.StrikeFlood, impl.MaxTick), pick(), pick(), pick(), pick()) {
+				c.run()
+			}
+		}
+		isBool(t, fmt.Sprint("the strikes ", odd, " are changed"), changed(), false)
+	}
+}
+
+// spoilLimits writes into all memory of what a function of chapter 6 returns.
+func spoilLimits(result any) {
+	switch r := result.(type) {
+	case []bool:
+		all := r[:cap(r)]
+		for i := range all {
+			all[i] = !all[i]
+		}
+	case []string:
+		spoil(r, "spoiled")
+	case []impl.Strike:
+		spoil(r, strike(-7, -7, -7))
+	case []int64:
+		overwrite(r)
+	}
+}
+
+// Promise 1 for limits: each list of a result is new memory.
+func TestLimitsAreNewMemory(t *testing.T) {
+	times, timesChanged := spare([]int64{0, 0, 9, 10, 10, 30}, 30, 40)
+	words, wordsChanged := spare([]string{"bad", "cat"}, "dog", "zebra")
+	strikes, strikesChanged := spare(trouble(), strike(7, 1, impl.MaxTick), strike(7, 2, impl.MaxTick))
+	for _, c := range goodLimits(times, words, strikes) {
+		one, other := c.run(), c.run()
+		last := len(one) - 1
+		kept := fmt.Sprintf("%+v", one)
+		for _, result := range other[:last] {
+			isBool(t, c.name, one[last].(bool), true)
+			spoilLimits(result)
+		}
+		isBool(t, c.name+": an argument is changed", timesChanged() || wordsChanged() || strikesChanged(), false)
+		isBool(t, c.name+": the other result is kept", fmt.Sprintf("%+v", one) == kept, true)
+		isBool(t, c.name+": the next result is the same", fmt.Sprintf("%+v", c.run()) == kept, true)
+	}
+}
+
+// Promise 1 for limits: nil and an empty list are the same argument.
+func TestNilIsAnEmptyListOfLimits(t *testing.T) {
+	empty := goodLimits([]int64{}, []string{}, []impl.Strike{})
+	for i, c := range goodLimits(nil, nil, nil) {
+		one, other := c.run(), empty[i].run()
+		isBool(t, c.name, fmt.Sprintf("%+v", one) == fmt.Sprintf("%+v", other), true)
+		if len(one) > 1 {
+			isBool(t, c.name+" succeeds", one[len(one)-1].(bool), true)
 		}
 	}
 }
