@@ -503,10 +503,110 @@ func callsOfLimits() []call {
 	return calls
 }
 
+func oddEvents() []impl.Event {
+	events := slices.Concat(goodEvents(), day().Events, failing())
+	bad := badEvents()
+	for _, name := range slices.Sorted(maps.Keys(bad)) {
+		events = append(events, bad[name])
+	}
+	return events
+}
+
+// oddEventLists are lists of which talk takes the first ones.
+func oddEventLists() [][]impl.Event {
+	few := fewerOf(day().Events)
+	lists := [][]impl.Event{nil, {}, {liked(3, 7)}, blinks(2), blinks(3), blinks(impl.MaxEvents - 1), blinks(impl.MaxEvents), few, day().Events, day().Events[:9], day().Events[1:], failing()}
+	bad := notEvents()
+	for i, name := range slices.Sorted(maps.Keys(bad)) {
+		// These are very many, and much alike.
+		if i%9 == 0 || len(bad[name]) > 2 {
+			lists = append(lists, bad[name])
+		}
+	}
+	return lists
+}
+
+func oddHistories() []impl.History {
+	histories := []impl.History{day(), {}, {Base: impl.Log{Next: 1}}, {Base: impl.Log{Next: 1}, Events: []impl.Event{posted(1, 7, 5, "x", 0)}}}
+	for _, l := range oddLogs() {
+		histories = append(histories, impl.History{Base: l}, impl.History{Base: l, Events: blinks(5)}, impl.History{Base: l, Events: blinks(20000)})
+	}
+	for _, events := range oddEventLists() {
+		histories = append(histories, impl.History{Base: talk(), Events: events}, impl.History{Base: longLog(), Events: events})
+	}
+	return histories
+}
+
+// eventCounts are those of which there are so many events, and odd ones.
+func eventCounts() []int64 {
+	return slices.Concat([]int64{-2, -1, 0, 1, 2, 3, 5, 8, 9, 15, 16, 17, impl.MaxEvents - 1, impl.MaxEvents, impl.MaxEvents + 1}, oddNumbers())
+}
+
+// eventsOf applies events to a log, one of them alone and all, and compacts them.
+func eventsOf(l impl.Log, one impl.Event, events []impl.Event) []call {
+	return []call{
+		{"ApplyEvent", func() []any { after, ok := impl.ApplyEvent(l, one); return []any{after, ok} }},
+		{"RunEvents", func() []any { after, ok := impl.RunEvents(l, events); return []any{after, ok} }},
+		{"CompactEvents", func() []any { few, ok := impl.CompactEvents(events); return []any{few, ok} }},
+		{"LogCost", func() []any { cost, ok := impl.LogCost(l); return []any{cost, ok} }},
+	}
+}
+
+// historyOf goes on with a history, and asks it.
+func historyOf(h impl.History, one impl.Event, count int64) []call {
+	return []call{
+		{"ValidHistory", func() []any { return []any{impl.ValidHistory(h)} }},
+		{"CurrentOf", func() []any { now, ok := impl.CurrentOf(h); return []any{now, ok} }},
+		{"AddEvent", func() []any { after, ok := impl.AddEvent(h, one); return []any{after, ok} }},
+		{"ForgetEvents", func() []any { after, ok := impl.ForgetEvents(h, count); return []any{after, ok} }},
+		{"SyncFrom", func() []any { s, ok := impl.SyncFrom(h, count); return []any{s, ok} }},
+	}
+}
+
+// syncsOf brings a log up to date, with each kind of sync and with none of them.
+func syncsOf(l impl.Log, events []impl.Event, whole impl.Log) []call {
+	var calls []call
+	for _, kind := range []int64{impl.SyncNone, impl.SyncEvents, impl.SyncWhole, -1, 3, math.MinInt64, math.MaxInt64} {
+		s := impl.Sync{Kind: kind, Events: events, Whole: whole}
+		calls = append(calls, call{"ApplySync", func() []any { end, ok := impl.ApplySync(l, s); return []any{end, ok} }})
+	}
+	return calls
+}
+
+// callsOfEvents calls every function of chapter 7, with a choice of the logs, events and counts.
+func callsOfEvents() []call {
+	rounds := rand.New(rand.NewSource(26))
+	logs, events, lists := append(oddLogs(), talk(), talk(), endOfDay()), oddEvents(), oddEventLists()
+	var calls []call
+	for _, e := range events {
+		calls = append(calls,
+			call{"ValidEvent", func() []any { return []any{impl.ValidEvent(e)} }},
+			call{"EventCost", func() []any { cost, ok := impl.EventCost(e); return []any{cost, ok} }},
+			call{"EventText", func() []any { text, ok := impl.EventText(e); return []any{text, ok} }})
+		calls = append(calls, eventsOf(talk(), e, []impl.Event{e})...)
+	}
+	for _, text := range append(oddStrings(), "0,1,7,0,0 hello", "3,1,7,0,0 ", "3,1,7,0,0", strings.Repeat("0,", 100000)) {
+		calls = append(calls, call{"ReadEvent", func() []any { e, ok := impl.ReadEvent(text); return []any{e, ok} }})
+	}
+	for _, l := range logs {
+		for range 30 {
+			list := lists[rounds.Intn(len(lists))]
+			calls = append(calls, eventsOf(l, events[rounds.Intn(len(events))], list)...)
+			calls = append(calls, syncsOf(l, list, logs[rounds.Intn(len(logs))])...)
+		}
+	}
+	for _, h := range oddHistories() {
+		for range 10 {
+			calls = append(calls, historyOf(h, events[rounds.Intn(len(events))], eventCounts()[rounds.Intn(len(eventCounts()))])...)
+		}
+	}
+	return calls
+}
+
 // Promise 1: every function returns for all arguments, with equal results for equal ones.
 // What fails has zero values as its other results.
 func TestCallsReturnAndAreEqual(t *testing.T) {
-	for _, c := range slices.Concat(callsOfNumbers(), callsOfStrings(), callsOfLists(), callsOfRooms(), callsOfLogs(), callsOfPosts(), callsOfPresences(), callsOfLimits()) {
+	for _, c := range slices.Concat(callsOfNumbers(), callsOfStrings(), callsOfLists(), callsOfRooms(), callsOfLogs(), callsOfPosts(), callsOfPresences(), callsOfLimits(), callsOfEvents()) {
 		first, second := c.run(), c.run()
 		if !reflect.DeepEqual(first, second) {
 			t.Errorf("%s: %v, then %v", c.name, first, second)
@@ -1150,5 +1250,127 @@ func TestNilIsAnEmptyListOfLimits(t *testing.T) {
 		if len(one) > 1 {
 			isBool(t, c.name+" succeeds", one[len(one)-1].(bool), true)
 		}
+	}
+}
+
+// spareHistory is spare for all lists of a history.
+func spareHistory(h impl.History) (impl.History, func() bool) {
+	base, baseChanged := spareLog(h.Base)
+	events, eventsChanged := spare(h.Events, liked(-5, -5), liked(10, 50), posted(23, 7, 10, "x", 0))
+	return impl.History{Base: base, Events: events}, func() bool { return baseChanged() || eventsChanged() }
+}
+
+// goodEventCalls are calls of all functions of chapter 7 that return lists; they succeed for day and for the log at its end.
+func goodEventCalls(h impl.History, end impl.Log) []call {
+	calls := slices.Concat(
+		eventsOf(h.Base, h.Events[0], h.Events), eventsOf(h.Base, liked(3, 7), nil), eventsOf(end, edited(22, impl.MaxMember, "x"), h.Events[:0]), eventsOf(end, takenBack(20, 7), []impl.Event{unliked(13, 8)}),
+		eventsOf(end, unliked(13, 7), []impl.Event{liked(10, 9)}),
+		syncsOf(h.Base, h.Events, end)[:3], syncsOf(end, []impl.Event{liked(10, 9)}, h.Base)[:3], syncsOf(end, nil, end)[:3])
+	for _, count := range []int64{0, 1, 8, 15, 16} {
+		calls = append(calls, historyOf(h, liked(10, 9), count)[1:]...)
+	}
+	return append(calls, historyOf(h, liked(10, 9), -1)[4], historyOf(impl.History{Base: h.Base}, liked(10, 9), 0)[2], historyOf(impl.History{Base: end}, liked(10, 9), -1)[4])
+}
+
+// Promise 1 for events: no function of chapter 7 modifies an argument.
+func TestEventsStayAsTheyAre(t *testing.T) {
+	rounds := rand.New(rand.NewSource(27))
+	events, counts := oddEvents(), eventCounts()
+	for _, odd := range oddHistories() {
+		if len(odd.Events)+len(odd.Base.Messages) > 150 {
+			continue
+		}
+		h, changed := spareHistory(odd)
+		other, otherChanged := spareLog(endOfDay())
+		var calls []call
+		for range 20 {
+			one, count := events[rounds.Intn(len(events))], counts[rounds.Intn(15)]
+			calls = append(calls, historyOf(h, one, count)...)
+			calls = append(calls, eventsOf(h.Base, one, h.Events)...)
+			calls = append(calls, syncsOf(h.Base, h.Events, other)...)
+			calls = append(calls, syncsOf(other, h.Events[:rounds.Intn(len(h.Events)+1)], h.Base)...)
+		}
+		for _, c := range calls {
+			c.run()
+		}
+		isBool(t, historyText(odd)+" is changed", changed(), false)
+		isBool(t, "the other log is changed", otherChanged(), false)
+	}
+	h, changed := spareHistory(day())
+	end, endChanged := spareLog(endOfDay())
+	for _, c := range goodEventCalls(h, end) {
+		c.run()
+		isBool(t, c.name+" changes the history", changed(), false)
+		isBool(t, c.name+" changes the log", endChanged(), false)
+	}
+}
+
+// spoilEvents writes into all memory of what a function of chapter 7 returns.
+func spoilEvents(result any) {
+	switch r := result.(type) {
+	case impl.Log:
+		spoilAll(r)
+	case []impl.Event:
+		spoil(r, liked(-7, -7))
+	case impl.History:
+		spoilAll(r.Base)
+		spoilEvents(r.Events)
+	case impl.Sync:
+		spoilAll(r.Whole)
+		spoilEvents(r.Events)
+	}
+}
+
+// Promise 1 for events: each list of a result is new memory.
+func TestEventsAreNewMemory(t *testing.T) {
+	h, changed := spareHistory(day())
+	end, endChanged := spareLog(endOfDay())
+	for _, c := range goodEventCalls(h, end) {
+		one, other := c.run(), c.run()
+		isBool(t, c.name, one[len(one)-1].(bool), true)
+		kept := fmt.Sprintf("%+v", one)
+		spoilEvents(other[0])
+		isBool(t, c.name+": an argument is changed", changed() || endChanged(), false)
+		isBool(t, c.name+": the other result is kept", fmt.Sprintf("%+v", one) == kept, true)
+		isBool(t, c.name+": the next result is the same", fmt.Sprintf("%+v", c.run()) == kept, true)
+	}
+}
+
+// logsIn returns the logs of what a function of chapter 7 returns, one or none.
+func logsIn(result any) []impl.Log {
+	switch r := result.(type) {
+	case impl.Log:
+		return []impl.Log{r}
+	case impl.History:
+		return []impl.Log{r.Base}
+	case impl.Sync:
+		return []impl.Log{r.Whole}
+	}
+	return nil
+}
+
+// Promise 1 for events: no two lists of one result share memory.
+func TestListsOfEventsAreApart(t *testing.T) {
+	for _, c := range goodEventCalls(day(), endOfDay()) {
+		for _, l := range logsIn(c.run()[0]) {
+			for i, m := range l.Messages {
+				others := but(l, func(l *impl.Log) { l.Messages = slices.Delete(l.Messages, i, i+1) })
+				overwrite(m.Likes)
+				rest := impl.Log{Next: l.Next, Messages: slices.Delete(slices.Clone(l.Messages), i, i+1)}
+				isLog(t, c.name+": the other messages", rest, true, others)
+			}
+		}
+	}
+}
+
+// Promise 1 for events: nil and an empty list are the same in a history and in a sync.
+func TestNilIsAnEmptyListOfEvents(t *testing.T) {
+	nothing, empty := impl.Log{Next: 1}, impl.Log{Next: 1, Messages: []impl.Message{}}
+	none := slices.Concat(historyOf(impl.History{Base: nothing}, posted(1, 7, 5, "x", 0), 0), eventsOf(nothing, posted(1, 7, 5, "x", 0), nil), syncsOf(nothing, nil, nothing))
+	others := slices.Concat(historyOf(impl.History{Base: empty, Events: []impl.Event{}}, posted(1, 7, 5, "x", 0), 0), eventsOf(empty, posted(1, 7, 5, "x", 0), []impl.Event{}), syncsOf(empty, []impl.Event{}, empty))
+	for i, c := range none {
+		one, other := c.run(), others[i].run()
+		isBool(t, c.name, fmt.Sprintf("%+v", one) == fmt.Sprintf("%+v", other), true)
+		isBool(t, c.name+" succeeds", one[len(one)-1].(bool), i < len(none)-4)
 	}
 }
