@@ -1,6 +1,7 @@
 package impl
 
 import (
+	"cmp"
 	"iter"
 	"slices"
 	"strconv"
@@ -289,7 +290,7 @@ func leadingDigits(s string) string {
 }
 
 // setOf sorts list in place, so list must belong to the caller.
-func setOf(list []int64) []int64 {
+func setOf[T cmp.Ordered](list []T) []T {
 	slices.Sort(list)
 	return slices.Compact(list)
 }

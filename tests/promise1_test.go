@@ -603,10 +603,109 @@ func callsOfEvents() []call {
 	return calls
 }
 
+func oddIndices() []impl.Index {
+	indices := []impl.Index{petIndex(), {}, {Entries: []impl.Entry{}}, indexWith(entry("dog", upTo(impl.MaxMessages)...), entry(longWord(), 1)), indexWith(entry("hi", 7), entry("room", impl.MaxValue), entry("x", 1, 2))}
+	bad := badIndices()
+	for _, name := range slices.Sorted(maps.Keys(bad)) {
+		indices = append(indices, bad[name])
+	}
+	return indices
+}
+
+func oddQueries() [][]string {
+	queries := [][]string{{"dog"}, {"big", "dog"}, {"dog", "big", "dog"}, {"x"}, {"hi", "room", "7"}, {"cat", "big"}, {longWord()}, slices.Repeat([]string{"dog"}, impl.MaxQuery), oddStrings()}
+	bad := notQueries()
+	for i, name := range slices.Sorted(maps.Keys(bad)) {
+		// These are very many, and much alike.
+		if i%5 == 0 || len(bad[name]) > 2 || len(bad[name]) == 0 {
+			queries = append(queries, bad[name])
+		}
+	}
+	return queries
+}
+
+// searchNumbers are those with which the functions with searches succeed, and odd ones.
+func searchNumbers() []int64 {
+	return slices.Concat([]int64{0, 1, 1, 2, 3, 4, 5, 8, 9, 9, 11, 39, impl.MaxMessages, impl.MaxText, impl.MaxItems, 105, 105, 200, 1000, 2000}, oddNumbers())
+}
+
+// indicesOf changes an index.
+func indicesOf(ix impl.Index, m impl.Message, number int64) []call {
+	return []call{
+		{"IndexMessage", func() []any { more, ok := impl.IndexMessage(ix, m); return []any{more, ok} }},
+		{"DropFrom", func() []any { less, ok := impl.DropFrom(ix, number); return []any{less, ok} }},
+	}
+}
+
+// findsOf looks for words in an index.
+func findsOf(ix impl.Index, words []string, word string, count int64) []call {
+	return []call{
+		{"NumbersOf", func() []any { numbers, ok := impl.NumbersOf(ix, word); return []any{numbers, ok} }},
+		{"WordsFrom", func() []any { from, ok := impl.WordsFrom(ix, word); return []any{from, ok} }},
+		{"CommonWords", func() []any { common, ok := impl.CommonWords(ix, count); return []any{common, ok} }},
+		{"FindAll", func() []any { numbers, ok := impl.FindAll(ix, words); return []any{numbers, ok} }},
+		{"FindAny", func() []any { numbers, ok := impl.FindAny(ix, words); return []any{numbers, ok} }},
+	}
+}
+
+// ranksOf looks for words in a log and in one of its messages.
+func ranksOf(l impl.Log, m impl.Message, words []string, at, count int64) []call {
+	return []call{
+		{"IndexOf", func() []any { ix, ok := impl.IndexOf(l); return []any{ix, ok} }},
+		{"FindPhrase", func() []any { numbers, ok := impl.FindPhrase(l, words); return []any{numbers, ok} }},
+		{"BestOf", func() []any { best, ok := impl.BestOf(l, words, at, count); return []any{best, ok} }},
+		{"PointsFor", func() []any { points, ok := impl.PointsFor(m, words, at); return []any{points, ok} }},
+	}
+}
+
+// marksOf looks for words in a text.
+func marksOf(text string, words []string, wide int64) []call {
+	return []call{
+		{"MarkWords", func() []any { marked, ok := impl.MarkWords(text, words); return []any{marked, ok} }},
+		{"SnippetOf", func() []any { snippet, ok := impl.SnippetOf(text, words, wide); return []any{snippet, ok} }},
+	}
+}
+
+// callsOfSearch calls every function of chapter 8, with a choice of the words and numbers.
+func callsOfSearch() []call {
+	rounds := rand.New(rand.NewSource(32))
+	pick := func() int64 { return searchNumbers()[rounds.Intn(len(searchNumbers()))] }
+	queries, texts := oddQueries(), append(oddStrings(), "Big cat, big dog", "DOG", "dog", "do")
+	query := func() []string { return queries[rounds.Intn(len(queries))] }
+	text := func() string { return texts[rounds.Intn(len(texts))] }
+	var calls []call
+	for _, ix := range oddIndices() {
+		calls = append(calls, call{"ValidIndex", func() []any { return []any{impl.ValidIndex(ix)} }})
+		for _, other := range oddIndices() {
+			calls = append(calls, call{"SameIndex", func() []any { return []any{impl.SameIndex(ix, other)} }})
+		}
+		for range 50 {
+			m := impl.Message{Number: pick(), Sender: 1 + pick()%4, At: pick(), Text: text(), Likes: oddLists()[rounds.Intn(len(oddLists()))]}
+			calls = append(calls, indicesOf(ix, m, pick())...)
+			calls = append(calls, findsOf(ix, query(), text(), pick())...)
+		}
+	}
+	for _, l := range append(oddLogs(), pets()) {
+		for range 100 {
+			m := impl.Message{Number: 9, Sender: 7, At: pick(), Text: text()}
+			if len(l.Messages) > 0 {
+				m = l.Messages[rounds.Intn(len(l.Messages))]
+			}
+			calls = append(calls, ranksOf(l, m, query(), pick(), pick())...)
+		}
+	}
+	for _, words := range append(queries, oddWords()...) {
+		for _, text := range texts {
+			calls = append(calls, marksOf(text, words, pick())...)
+		}
+	}
+	return calls
+}
+
 // Promise 1: every function returns for all arguments, with equal results for equal ones.
 // What fails has zero values as its other results.
 func TestCallsReturnAndAreEqual(t *testing.T) {
-	for _, c := range slices.Concat(callsOfNumbers(), callsOfStrings(), callsOfLists(), callsOfRooms(), callsOfLogs(), callsOfPosts(), callsOfPresences(), callsOfLimits(), callsOfEvents()) {
+	for _, c := range slices.Concat(callsOfNumbers(), callsOfStrings(), callsOfLists(), callsOfRooms(), callsOfLogs(), callsOfPosts(), callsOfPresences(), callsOfLimits(), callsOfEvents(), callsOfSearch()) {
 		first, second := c.run(), c.run()
 		if !reflect.DeepEqual(first, second) {
 			t.Errorf("%s: %v, then %v", c.name, first, second)
@@ -1372,5 +1471,138 @@ func TestNilIsAnEmptyListOfEvents(t *testing.T) {
 		one, other := c.run(), others[i].run()
 		isBool(t, c.name, fmt.Sprintf("%+v", one) == fmt.Sprintf("%+v", other), true)
 		isBool(t, c.name+" succeeds", one[len(one)-1].(bool), i < len(none)-4)
+	}
+}
+
+// spareIndex is spare for all lists of an index.
+func spareIndex(ix impl.Index) (impl.Index, func() bool) {
+	whole := copyOfIndex(impl.Index{Entries: append(slices.Clone(ix.Entries), entry("spare", -5), entry("zzz", 1))})
+	entries := len(ix.Entries)
+	for i, e := range whole.Entries[:entries] {
+		whole.Entries[i].Numbers = append(slices.Clone(e.Numbers), -7, 5, impl.MaxValue)[:len(e.Numbers)]
+	}
+	// What is compared has the unused capacity of the lists too.
+	text := func() string {
+		all := copyOfIndex(whole)
+		for i, e := range whole.Entries {
+			all.Entries[i].Numbers = slices.Clone(e.Numbers[:cap(e.Numbers)])
+		}
+		return indexText(all)
+	}
+	kept := text()
+	return impl.Index{Entries: whole.Entries[:entries]}, func() bool { return text() != kept }
+}
+
+// goodSearches are calls of all functions of chapter 8 that return lists; they succeed for petIndex and for pets.
+func goodSearches(ix impl.Index, l impl.Log, words []string) []call {
+	var calls []call
+	for _, m := range []impl.Message{l.Messages[0], l.Messages[1], l.Messages[3], said(2, 7, 0, "Big dog zebra", 0), said(12, 7, 0, "dogs and dogs", 0)} {
+		calls = append(calls, indicesOf(ix, m, m.Number)...)
+		calls = append(calls, ranksOf(l, m, words, 105, m.Number)[:3]...)
+		calls = append(calls, findsOf(ix, words, words[0], m.Number)...)
+		calls = append(calls, findsOf(ix, words[:1], words[1], 300)...)
+		calls = append(calls, ranksOf(l, m, words[:1], 105, 40)[:3]...)
+	}
+	for _, word := range []string{"7", "fish", "dog", "dogs"} {
+		calls = append(calls, findsOf(ix, []string{word, "big"}, word, 0)...)
+	}
+	return append(calls, findsOf(ix, words, "", 2)[1], indicesOf(ix, l.Messages[0], 4)[1])
+}
+
+// Promise 1 for search: no function of chapter 8 modifies an argument.
+func TestSearchLeavesAllAsItIs(t *testing.T) {
+	rounds := rand.New(rand.NewSource(33))
+	pick := func() int64 { return searchNumbers()[rounds.Intn(len(searchNumbers()))] }
+	l, logChanged := spareLog(pets())
+	for i, odd := range oddIndices() {
+		ix, changed := spareIndex(odd)
+		for _, query := range oddQueries()[:8] {
+			words, wordsChanged := spare(query, "", "zzz", "big")
+			for range 3 {
+				m := l.Messages[rounds.Intn(8)]
+				calls := slices.Concat(indicesOf(ix, m, pick()), findsOf(ix, words, words[0], pick()), ranksOf(l, m, words, 105+pick()%1000, pick()), marksOf(m.Text, words, pick()))
+				for _, c := range calls {
+					c.run()
+				}
+				impl.ValidIndex(ix)
+				impl.SameIndex(ix, petIndex())
+			}
+			isBool(t, fmt.Sprint("the words ", query, " are changed"), wordsChanged(), false)
+		}
+		isBool(t, fmt.Sprint("the index ", i, " is changed"), changed(), false)
+	}
+	isBool(t, "the log is changed", logChanged(), false)
+	for _, odd := range oddQueries() {
+		words, wordsChanged := spare(odd, "", "zzz", "big")
+		for _, c := range slices.Concat(findsOf(petIndex(), words, "dog", 5), ranksOf(pets(), l.Messages[0], words, 105, 5), marksOf("Big cat, big dog", words, 5)) {
+			c.run()
+		}
+		isBool(t, fmt.Sprintf("the words %.100q are changed", odd), wordsChanged(), false)
+	}
+}
+
+// spoilSearch writes into all memory of what a function of chapter 8 returns.
+func spoilSearch(result any) {
+	switch r := result.(type) {
+	case impl.Index:
+		for _, e := range r.Entries {
+			overwrite(e.Numbers)
+		}
+		spoil(r.Entries, entry("spoiled", -7))
+	case []string:
+		spoil(r, "spoiled")
+	case []int64:
+		overwrite(r)
+	}
+}
+
+// Promise 1 for search: each list of a result is new memory.
+func TestSearchesAreNewMemory(t *testing.T) {
+	ix, changed := spareIndex(petIndex())
+	l, logChanged := spareLog(pets())
+	words, wordsChanged := spare([]string{"dog", "big"}, "", "cat")
+	for _, c := range goodSearches(ix, l, words) {
+		one, other := c.run(), c.run()
+		isBool(t, c.name, one[1].(bool), true)
+		kept := fmt.Sprintf("%+v", one)
+		spoilSearch(other[0])
+		isBool(t, c.name+": an argument is changed", changed() || logChanged() || wordsChanged(), false)
+		isBool(t, c.name+": the other result is kept", fmt.Sprintf("%+v", one) == kept, true)
+		isBool(t, c.name+": the next result is the same", fmt.Sprintf("%+v", c.run()) == kept, true)
+	}
+}
+
+// Promise 1 for search: no two lists of one result share memory.
+func TestListsOfAnIndexAreApart(t *testing.T) {
+	for _, c := range goodSearches(petIndex(), pets(), []string{"dog", "big"}) {
+		ix, ok := c.run()[0].(impl.Index)
+		for i := range ix.Entries {
+			others := copyOfIndex(ix)
+			overwrite(ix.Entries[i].Numbers)
+			others.Entries[i] = ix.Entries[i]
+			isIndex(t, c.name+": the other entries", ix, ok, others)
+		}
+	}
+}
+
+// Promise 1 for search: nil and an empty list are the same argument.
+func TestNilIsAnEmptyListOfSearch(t *testing.T) {
+	empty, nothing := impl.Index{Entries: []impl.Entry{}}, impl.Log{Next: 1, Messages: []impl.Message{}}
+	isBool(t, "ValidIndex", impl.ValidIndex(empty) && impl.ValidIndex(impl.Index{}), true)
+	m, same := said(1, 7, 0, "dog", 0), said(1, 7, 0, "dog", 0)
+	same.Likes = []int64{}
+	for _, words := range [][]string{{"dog"}, {"big", "cat"}} {
+		none := slices.Concat(indicesOf(impl.Index{}, m, 5), findsOf(impl.Index{}, words, "dog", 5), ranksOf(impl.Log{Next: 1}, m, words, 0, 5))
+		others := slices.Concat(indicesOf(empty, same, 5), findsOf(empty, words, "dog", 5), ranksOf(nothing, same, words, 0, 5))
+		for i, c := range none {
+			one, other := c.run(), others[i].run()
+			isBool(t, c.name, fmt.Sprintf("%+v", one) == fmt.Sprintf("%+v", other), true)
+			isBool(t, c.name+" succeeds", one[1].(bool), true)
+		}
+	}
+	for _, words := range [][]string{nil, {}} {
+		for _, c := range slices.Concat(findsOf(petIndex(), words, "dog", 5)[3:], ranksOf(pets(), m, words, 105, 5)[1:], marksOf("a dog", words, 5)) {
+			isBool(t, c.name+" without words", c.run()[1].(bool), false)
+		}
 	}
 }
