@@ -702,10 +702,108 @@ func callsOfSearch() []call {
 	return calls
 }
 
+// oddReminderLists are lists of reminders, some of which are none.
+func oddReminderLists() [][]impl.Reminder {
+	lists := [][]impl.Reminder{nil, {}, chores(), chores()[:1], manyReminders(impl.MaxReminders), slices.Repeat(chores(), 5)}
+	bad := notReminders()
+	for i, name := range slices.Sorted(maps.Keys(bad)) {
+		// These are very many, and much alike.
+		if i%7 == 0 || len(bad[name]) > 20 {
+			lists = append(lists, bad[name])
+		}
+	}
+	return lists
+}
+
+// oddBlockLists are lists of blocks, some of which are not sound.
+func oddBlockLists() [][]impl.Block {
+	blocks := sealed(bodiesOf(talk(), 3)...)
+	lines := linesOf(longLog().Messages...)
+	lists := [][]impl.Block{
+		nil, {}, blocks, blocks[:1], blocks[1:], sealed(lines...), sealed(append(lines, lines[0])...), sealed(bodiesOf(wideLog(40, impl.MaxBytes-32), 40)...), sealed(bodiesOf(wideLog(20, impl.MaxBytes), 20)...),
+		make([]impl.Block, 5), make([]impl.Block, 20000), slices.Repeat(blocks, 10), {{From: math.MinInt64, Count: math.MaxInt64}},
+	}
+	for _, s := range append(oddStrings(), notLines()...) {
+		lists = append(lists, sealed(s), sealed(s+"\n"), butBlock(blocks, 1, func(b *impl.Block) { b.Body = s }), butBlock(blocks, 0, func(b *impl.Block) { b.Before = s }), butBlock(blocks, 2, func(b *impl.Block) { b.Digest = s }))
+	}
+	for _, n := range oddNumbers() {
+		lists = append(lists, butBlock(blocks, 1, func(b *impl.Block) { b.From = n }), butBlock(blocks, 1, func(b *impl.Block) { b.Count = n }))
+	}
+	return lists
+}
+
+// sweepNumbers are those with which the functions with sweeps succeed, and odd ones.
+func sweepNumbers() []int64 {
+	return slices.Concat([]int64{0, 0, 1, 2, 3, 4, 5, 8, 9, 9, 10, 12, 14, 20, 20, 39, impl.MaxMessages, 100, 105, 300}, oddNumbers())
+}
+
+// duesOf lets reminders fire.
+func duesOf(list []impl.Reminder, now int64) []call {
+	return []call{
+		{"DueReminders", func() []any {
+			fired, left, ok := impl.DueReminders(list, now)
+			return []any{fired, left, ok}
+		}},
+		{"NextReminder", func() []any { next, ok := impl.NextReminder(list); return []any{next, ok} }},
+	}
+}
+
+// sweepsOf sweeps a log, asks what it has and has not, and exports it.
+func sweepsOf(l impl.Log, now, age, keep int64, pins []int64) []call {
+	return []call{
+		{"SweepLog", func() []any { swept, ok := impl.SweepLog(l, now, age, keep, pins); return []any{swept, ok} }},
+		{"AgesOf", func() []any { ages, ok := impl.AgesOf(l, now); return []any{ages, ok} }},
+		{"HolesOf", func() []any { holes, ok := impl.HolesOf(l); return []any{holes, ok} }},
+		{"ExportLog", func() []any { blocks, ok := impl.ExportLog(l, keep); return []any{blocks, ok} }},
+	}
+}
+
+// importsOf reads blocks.
+func importsOf(blocks []impl.Block, next int64) []call {
+	return []call{
+		{"ImportBlocks", func() []any { l, ok := impl.ImportBlocks(blocks, next); return []any{l, ok} }},
+		{"FirstBad", func() []any { bad, ok := impl.FirstBad(blocks); return []any{bad, ok} }},
+		{"AreBlocks", func() []any { return []any{impl.AreBlocks(blocks)} }},
+	}
+}
+
+// callsOfBlocks calls every function of chapter 9, with a choice of the numbers and pins.
+func callsOfBlocks() []call {
+	rounds := rand.New(rand.NewSource(38))
+	pick := func() int64 { return sweepNumbers()[rounds.Intn(len(sweepNumbers()))] }
+	pins := slices.Concat(oddLists(), notPins(), [][]int64{{2}, {3, 9, 13}, upTo(13)})
+	var calls []call
+	for _, list := range oddReminderLists() {
+		for _, r := range list[:min(len(list), 50)] {
+			calls = append(calls, call{"IsReminder", func() []any { return []any{impl.IsReminder(r)} }})
+		}
+		for range 30 {
+			calls = append(calls, duesOf(list, pick())...)
+		}
+	}
+	for _, l := range append(oddLogs(), pets(), wideLog(40, impl.MaxBytes-32)) {
+		for range 100 {
+			calls = append(calls, sweepsOf(l, pick(), pick(), pick(), pins[rounds.Intn(len(pins))])...)
+		}
+		for _, m := range l.Messages[:min(len(l.Messages), 50)] {
+			calls = append(calls, call{"MessageLine", func() []any { line, ok := impl.MessageLine(m); return []any{line, ok} }})
+		}
+	}
+	for _, line := range slices.Concat(oddStrings(), notLines(), linesOf(talk().Messages...), slices.Sorted(maps.Keys(someMessages()))) {
+		calls = append(calls, call{"ReadLine", func() []any { m, ok := impl.ReadLine(line); return []any{m, ok} }})
+	}
+	for _, blocks := range oddBlockLists() {
+		for range 5 {
+			calls = append(calls, importsOf(blocks, pick())...)
+		}
+	}
+	return calls
+}
+
 // Promise 1: every function returns for all arguments, with equal results for equal ones.
 // What fails has zero values as its other results.
 func TestCallsReturnAndAreEqual(t *testing.T) {
-	for _, c := range slices.Concat(callsOfNumbers(), callsOfStrings(), callsOfLists(), callsOfRooms(), callsOfLogs(), callsOfPosts(), callsOfPresences(), callsOfLimits(), callsOfEvents(), callsOfSearch()) {
+	for _, c := range slices.Concat(callsOfNumbers(), callsOfStrings(), callsOfLists(), callsOfRooms(), callsOfLogs(), callsOfPosts(), callsOfPresences(), callsOfLimits(), callsOfEvents(), callsOfSearch(), callsOfBlocks()) {
 		first, second := c.run(), c.run()
 		if !reflect.DeepEqual(first, second) {
 			t.Errorf("%s: %v, then %v", c.name, first, second)
@@ -1604,5 +1702,132 @@ func TestNilIsAnEmptyListOfSearch(t *testing.T) {
 		for _, c := range slices.Concat(findsOf(petIndex(), words, "dog", 5)[3:], ranksOf(pets(), m, words, 105, 5)[1:], marksOf("a dog", words, 5)) {
 			isBool(t, c.name+" without words", c.run()[1].(bool), false)
 		}
+	}
+}
+
+// goodBlockCalls are calls of all functions of chapter 9 that return lists; they succeed for chores, talk and its blocks.
+func goodBlockCalls(list []impl.Reminder, l impl.Log, pins []int64, blocks []impl.Block) []call {
+	var calls []call
+	for _, now := range []int64{0, 5, 15, 30, impl.MaxTick} {
+		calls = append(calls, duesOf(list, now)[0], duesOf(list[:0], now)[0])
+	}
+	for _, keep := range []int64{1, 3, 8, impl.MaxMessages} {
+		calls = append(calls, sweepsOf(l, 10, 3, keep, pins)...)
+		calls = append(calls, sweepsOf(l, 10, 9, keep, pins[:0])[0], sweepsOf(l, 100, 0, keep, pins[:1])[0])
+	}
+	calls = append(calls, sweepsOf(l, 9, impl.MaxTick, 0, pins)[:3]...)
+	for i := range len(blocks) + 1 {
+		calls = append(calls, importsOf(blocks[:i], l.Next)[0])
+	}
+	for _, line := range []string{"2,7,0,0,0,0 8,9 hello", "3,8,2,0,0,2 none hi @7"} {
+		calls = append(calls, call{"ReadLine", func() []any { m, ok := impl.ReadLine(line); return []any{m, ok} }})
+	}
+	return calls
+}
+
+// Promise 1 for blocks: no function of chapter 9 modifies an argument.
+func TestBlocksStayAsTheyAre(t *testing.T) {
+	rounds := rand.New(rand.NewSource(39))
+	pick := func() int64 { return sweepNumbers()[rounds.Intn(len(sweepNumbers()))] }
+	for _, odd := range oddReminderLists() {
+		list, changed := spare(odd, reminder(-5, -5, -5, -5, -5), reminder(7, 1, 0, 1, 2))
+		for range 20 {
+			for _, c := range duesOf(list, pick()) {
+				c.run()
+			}
+		}
+		isBool(t, fmt.Sprintf("the reminders %.100v are changed", fmt.Sprint(odd)), changed(), false)
+	}
+	for _, odd := range append(oddLogs(), longLog(), pets()) {
+		if len(odd.Messages) > 100 {
+			continue
+		}
+		l, changed := spareLog(odd)
+		pins, pinsChanged := spare([]int64{2, 5, 13}, 1, 14, -5)
+		for range 50 {
+			for _, c := range sweepsOf(l, pick(), pick(), pick(), pins[:rounds.Intn(4)]) {
+				c.run()
+			}
+		}
+		for _, m := range l.Messages {
+			impl.MessageLine(m)
+		}
+		isBool(t, logText(odd)+" is changed", changed() || pinsChanged(), false)
+	}
+	for i, odd := range oddBlockLists() {
+		blocks, changed := spare(odd, impl.Block{From: -5}, sealed(linesOf(talk().Messages...)...)[7])
+		for _, c := range importsOf(blocks, 20) {
+			c.run()
+		}
+		isBool(t, fmt.Sprint("the blocks ", i, " are changed"), changed(), false)
+	}
+}
+
+// spoilBlocks writes into all memory of what a function of chapter 9 returns.
+func spoilBlocks(result any) {
+	switch r := result.(type) {
+	case []impl.Reminder:
+		spoil(r, reminder(-7, -7, -7, -7, -7))
+	case []impl.Block:
+		spoil(r, impl.Block{Before: "spoiled", From: -7})
+	default:
+		spoilAll(r)
+	}
+}
+
+// Promise 1 for blocks: each list of a result is new memory.
+func TestBlocksAreNewMemory(t *testing.T) {
+	list, listChanged := spare(chores(), reminder(7, 1, 0, 1, 2), reminder(7, 1, 100, 1, 2))
+	l, logChanged := spareLog(talk())
+	pins, pinsChanged := spare([]int64{2, 5, 13}, 14, 15)
+	blocks, blocksChanged := spare(sealed(bodiesOf(talk(), 3)...), impl.Block{From: 14}, impl.Block{From: -5})
+	for _, c := range goodBlockCalls(list, l, pins, blocks) {
+		one, other := c.run(), c.run()
+		last := len(one) - 1
+		isBool(t, c.name, one[last].(bool), true)
+		kept := fmt.Sprintf("%+v", one)
+		for _, result := range other[:last] {
+			spoilBlocks(result)
+		}
+		isBool(t, c.name+": an argument is changed", listChanged() || logChanged() || pinsChanged() || blocksChanged(), false)
+		isBool(t, c.name+": the other result is kept", fmt.Sprintf("%+v", one) == kept, true)
+		isBool(t, c.name+": the next result is the same", fmt.Sprintf("%+v", c.run()) == kept, true)
+	}
+}
+
+// Promise 1 for blocks: no two lists of one result share memory.
+func TestListsOfBlocksAreApart(t *testing.T) {
+	fired, left, _ := impl.DueReminders(chores(), 15)
+	for i, row := range fired {
+		others := fmt.Sprint(fired[:i], fired[i+1:], left)
+		overwrite(row)
+		isBool(t, fmt.Sprint("the rows beside ", i), fmt.Sprint(fired[:i], fired[i+1:], left) == others, true)
+	}
+	for _, c := range goodBlockCalls(chores(), talk(), []int64{2, 5, 13}, sealed(bodiesOf(talk(), 3)...)) {
+		for _, l := range logsIn(c.run()[0]) {
+			for i, m := range l.Messages {
+				others := but(l, func(l *impl.Log) { l.Messages = slices.Delete(l.Messages, i, i+1) })
+				overwrite(m.Likes)
+				rest := impl.Log{Next: l.Next, Messages: slices.Delete(slices.Clone(l.Messages), i, i+1)}
+				isLog(t, c.name+": the other messages", rest, true, others)
+			}
+		}
+	}
+}
+
+// Promise 1 for blocks: nil and an empty list are the same argument.
+func TestNilIsAnEmptyListOfBlocks(t *testing.T) {
+	empty := but(talk(), func(l *impl.Log) {
+		for i := range l.Messages {
+			l.Messages[i].Likes = append([]int64{}, l.Messages[i].Likes...)
+		}
+	})
+	none := slices.Concat(duesOf(nil, 5), sweepsOf(talk(), 10, 3, 2, nil), sweepsOf(impl.Log{Next: 5}, 10, 3, 2, nil), importsOf(nil, 5))
+	others := slices.Concat(duesOf([]impl.Reminder{}, 5), sweepsOf(empty, 10, 3, 2, []int64{}), sweepsOf(impl.Log{Next: 5, Messages: []impl.Message{}}, 10, 3, 2, []int64{}), importsOf([]impl.Block{}, 5))
+	for i, c := range none {
+		one, other := c.run(), others[i].run()
+		isBool(t, c.name, fmt.Sprintf("%+v", one) == fmt.Sprintf("%+v", other), true)
+		// There is no next reminder, and no bad block.
+		isBool(t, c.name+" succeeds", one[len(one)-1].(bool), c.name != "NextReminder" && c.name != "FirstBad")
 	}
 }
